@@ -1,0 +1,1 @@
+"""Modules of a small language, and what strangers in machine code see of them."""
