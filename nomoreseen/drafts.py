@@ -17,7 +17,7 @@ class Draft:
 
     def kind(self, value):
         """The kind that this value tells, as a tuple; None if it is none of this module."""
-        if not is_row(value, 2) or not isinstance(value[0], str):
+        if not is_row(value, 2):
             return None
         word, what = value
         if word == "num" and is_size(what):
@@ -67,11 +67,8 @@ class Draft:
         self.outs[value[0]] = kinds
         return True
 
-    def takes_entry(self, value):
-        """Takes (name, parameter, kind in, kind back) of an entry, whose locals and rows come next."""
-        if not is_row(value, 4):
-            return False
-        name, parameter, told_in, told_back = value
+    def takes_entry(self, name, parameter, told_in, told_back):
+        """Takes the first parts of an entry, whose locals and rows come next."""
         kind_in = self.kind(told_in)
         self.kind_back = self.kind(told_back)
         if kind_in is None or self.kind_back is None or not self.takes_name(name):

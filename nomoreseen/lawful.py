@@ -24,7 +24,7 @@ class Moment:
     """How far a play has come: what was handed out, what came, and which doors wait.
 
     handed has the class of each thing on the guest's list; came how many foreign things of each
-    class there were; entries and outs those that are not answered yet, the newest one last.
+    class there were; entries and outs the kinds back of calls not answered yet, the newest one last.
     """
 
     def __init__(self, book, module):
@@ -40,7 +40,7 @@ class Moment:
         if move[0] == "call":
             return self.kind_of_call(move[1], comes)
         waiting = self.outs if comes else self.entries
-        return waiting[-1][1] if waiting else None
+        return waiting[-1] if waiting else None
 
     def kind_of_call(self, name, comes):
         """The kind that the door of this name takes; None if it may not be called now."""
@@ -82,10 +82,10 @@ class Moment:
             waiting.pop()
         elif comes:
             entry = self.module.entries[self.module.entry_at(move[1])]
-            self.entries.append((move[1], entry[3]))
+            self.entries.append(entry[3])
         else:
             out = self.module.outs[self.module.out_at(move[1])]
-            self.outs.append((move[1], out[2]))
+            self.outs.append(out[2])
 
 
 def need_comes(book, module, play):

@@ -107,6 +107,11 @@ def need_module(value):
         raise InvalidModule(("module",))
 
 
+def is_own(module, kind):
+    """Whether this is a kind of things of an own class of the module."""
+    return kind[0] == "thing" and kind[1] in module.own_at
+
+
 def _check_parts(name, classes, room, foreign, cells, outs, entries):
     draft = Draft()
     if not is_name(name):
@@ -135,9 +140,12 @@ def _check_each(part, things, takes):
 
 def _takes_whole_entry(draft, entry):
     """Takes all of an entry but its rows."""
-    if not is_row(entry, 6) or not draft.takes_entry(entry[:4]) or not is_sequence(entry[4]):
+    if not is_row(entry, 6):
         return False
-    return all([draft.takes_local(local) for local in entry[4]])
+    name, parameter, kind_in, kind_back, inner, _ = entry
+    if not draft.takes_entry(name, parameter, kind_in, kind_back) or not is_sequence(inner):
+        return False
+    return all([draft.takes_local(local) for local in inner])
 
 
 def _check_rows(draft, entry, rows):

@@ -1,7 +1,7 @@
 """Plain runs: states, in-moves, and how a module answers them."""
 
 from nomoreseen.errors import Refused
-from nomoreseen.modules import need_module
+from nomoreseen.modules import is_own, need_module
 from nomoreseen.runs import move_fits, went_through
 from nomoreseen.states import first_state, frame_kinds, need_in_move, need_secrets, need_state
 
@@ -67,16 +67,12 @@ def trimmed(module, state):
     )
 
 
-def _is_own(module, kind):
-    return kind[0] == "thing" and kind[1] in module.own_at
-
-
 def _things_held(module, kinds, held):
     """The numbers of the own things that variables of these kinds hold."""
-    return [held[at] for at, kind in enumerate(kinds) if _is_own(module, kind) and held[at] != 0]
+    return [held[at] for at, kind in enumerate(kinds) if is_own(module, kind) and held[at] != 0]
 
 
 def _renumbered(module, kinds, held, numbers):
     return tuple([
-        numbers[held[at]] if _is_own(module, kind) else held[at] for at, kind in enumerate(kinds)
+        numbers[held[at]] if is_own(module, kind) else held[at] for at, kind in enumerate(kinds)
     ])

@@ -2,7 +2,7 @@
 
 from nomoreseen.books import fits
 from nomoreseen.errors import InvalidModule, InvalidSize, InvalidSpots
-from nomoreseen.modules import need_book, need_module
+from nomoreseen.modules import is_own, need_book
 from nomoreseen.values import is_row, is_sequence
 
 TRICKS = ("W", "K", "H", "C", "N", "S", "B", "R")
@@ -46,8 +46,8 @@ def spots(book, module):
     comes.extend([(name, kind_back) for name, _, kind_back in called])
     goes = [entry[3] for entry in module.entries if entry[0] in answering]
     goes.extend([kind_in for _, kind_in, _ in called])
-    given = [name for name, kind in comes if _is_own(module, kind)]
-    are_named = len(given) > 0 or any([_is_own(module, kind) for kind in goes])
+    given = [name for name, kind in comes if is_own(module, kind)]
+    are_named = len(given) > 0 or any([is_own(module, kind) for kind in goes])
     seams = {
         "alone": entries if called and not book.inside else [],
         "below": [name for name, kind in comes if kind[0] == "num" and kind[1] < book.word],
@@ -76,10 +76,6 @@ def _called_outs(module):
     """The outs that some row calls."""
     numbers = {module.steps[entry][row][2]: True for entry, row in module.calls()}
     return [out for at, out in enumerate(module.outs) if at in numbers]
-
-
-def _is_own(module, kind):
-    return kind[0] == "thing" and kind[1] in module.own_at
 
 
 def need_spots(book, module, value):

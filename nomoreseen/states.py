@@ -105,7 +105,7 @@ def in_move(module, value):
 
 def out_move(module, value):
     """The value as a tuple if it is an out-move of this module by its form, else None."""
-    if is_row(value, 1) and isinstance(value[0], str) and value[0] in ("never", "show"):
+    if is_row(value, 1) and value[0] in ("never", "show"):
         return tuple(value)
     return _move(module.out_numbers, value)
 

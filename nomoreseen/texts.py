@@ -5,32 +5,24 @@ from nomoreseen.errors import InvalidBook, InvalidPlay, InvalidText
 from nomoreseen.modules import Book, Module, need_book, need_module
 from nomoreseen.rows import LAST_WORDS, row_fits, target_of
 from nomoreseen.states import in_move, out_move
-from nomoreseen.values import is_name, is_sequence
+from nomoreseen.values import is_below, is_name, is_sequence
 from nomoreseen.words import line_of, need_lines, text_of
 
-# How far a text has come: behind nothing, the module's line, room, foreign classes, cells, outs,
-# an entry's line or its locals, a row of it.
-NOTHING = 0
-NAMED = 1
-ROOMY = 2
-STRANGE = 3
-CELLED = 4
-CALLING = 5
-ENTERED = 6
-ROWED = 7
-
-# For the first word of a line: how many words it has, the least and the greatest stage behind
-# which it can stand, and the stage behind it.
-PARTS = {
-    "module": (2, NOTHING, NOTHING, NAMED),
-    "class": (3, NAMED, NAMED, NAMED),
-    "room": (2, NAMED, NAMED, ROOMY),
-    "foreign": (2, ROOMY, STRANGE, STRANGE),
-    "cell": (4, ROOMY, CELLED, CELLED),
-    "secret": (4, ROOMY, CELLED, CELLED),
-    "out": (6, ROOMY, CALLING, CALLING),
-    "entry": (7, ROOMY, ROWED, ENTERED),
-    "local": (4, ENTERED, ENTERED, ENTERED),
+# How many words lines of a module's text have, but for rows; and behind which lines they can stand.
+LENGTHS = {
+    "module": 2, "class": 3, "room": 2, "foreign": 2, "cell": 4, "secret": 4, "out": 6, "entry": 7, "local": 4,
+}
+BEHIND = {
+    "module": ("",),
+    "class": ("module", "class"),
+    "room": ("module", "class"),
+    "foreign": ("room", "foreign"),
+    "cell": ("room", "foreign", "cell", "secret"),
+    "secret": ("room", "foreign", "cell", "secret"),
+    "out": ("room", "foreign", "cell", "secret", "out"),
+    "entry": ("room", "foreign", "cell", "secret", "out", "row"),
+    "local": ("entry", "local"),
+    "row": ("entry", "local", "row"),
 }
 
 
@@ -57,7 +49,7 @@ def read_module(text):
     for at, words in enumerate(lines):
         if not reading.takes(words):
             raise InvalidText(at)
-    if reading.stage != ROWED or not reading.is_entry_whole():
+    if not reading.is_whole():
         raise InvalidText(len(lines))
     return reading.whole_module()
 
@@ -66,7 +58,7 @@ class Reading:
     """A module's text as far as it is read; rows are looked at as they come."""
 
     def __init__(self):
-        self.stage = NOTHING
+        self.newest = ""
         self.draft = Draft()
         self.name = None
         self.classes = []
@@ -80,60 +72,57 @@ class Reading:
         """Whether this line can stand behind those ahead of it; it is read then."""
         if not words:
             return False
-        word = words[0]
-        if word not in PARTS:
-            return self.takes_row(tuple(words))
-        many, least, most, behind = PARTS[word]
-        if len(words) != many or not least <= self.stage <= most:
+        line = words[0] if words[0] in LENGTHS else "row"
+        if self.newest not in BEHIND[line] or len(words) != LENGTHS.get(line, len(words)):
             return False
-        self.stage = behind
-        if word in ("entry", "local"):
-            return self.takes_of_entry(word, words)
-        return self.takes_ahead(word, words)
+        if line == "entry" and self.entries and not self.is_whole():
+            return False
+        self.newest = line
+        if line == "row":
+            return self.takes_row(tuple(words))
+        if line in ("entry", "local"):
+            return self.takes_of_entry(line, words)
+        return self.takes_ahead(line, words)
 
-    def takes_ahead(self, word, words):
+    def takes_ahead(self, line, words):
         """Takes a part that stands ahead of all entries."""
-        if word == "module":
+        if line == "module":
             self.name = words[1]
             return is_name(self.name)
-        if word == "room":
+        if line == "room":
             self.room = words[1]
-            return not isinstance(self.room, str) and self.room < 100
-        if word == "class":
+            return is_below(self.room, 100)
+        if line == "class":
             self.classes.append((words[1], words[2]))
             return self.draft.takes_class(self.classes[-1])
-        if word == "foreign":
+        if line == "foreign":
             self.foreign.append(words[1])
             return self.draft.takes_foreign(words[1])
-        if word == "out":
+        if line == "out":
             self.outs.append((words[1], (words[2], words[3]), (words[4], words[5])))
             return self.draft.takes_out(self.outs[-1])
-        self.cells.append((words[1], (words[2], words[3]), word == "secret"))
+        self.cells.append((words[1], (words[2], words[3]), line == "secret"))
         return self.draft.takes_cell(self.cells[-1])
 
-    def takes_of_entry(self, word, words):
+    def takes_of_entry(self, line, words):
         """Takes the first line of an entry, or a local of it."""
-        if word == "local":
+        if line == "local":
             local = (words[1], (words[2], words[3]))
             self.entries[-1][4].append(local)
             return self.draft.takes_local(local)
-        if self.entries and not self.is_entry_whole():
-            return False
-        head = (words[1], words[2], (words[3], words[4]), (words[5], words[6]))
+        _, name, parameter, word_in, told_in, word_back, told_back = words
+        head = (name, parameter, (word_in, told_in), (word_back, told_back))
         self.entries.append(head + ([], []))
-        return self.draft.takes_entry(head)
+        return self.draft.takes_entry(name, parameter, head[2], head[3])
 
     def takes_row(self, row):
         """Takes a row of the newest entry; rows that it leads to may still come."""
-        if self.stage not in (ENTERED, ROWED) or not row_fits(self.draft, row, None):
-            return False
-        self.stage = ROWED
         self.entries[-1][5].append(row)
-        return True
+        return row_fits(self.draft, row, None)
 
-    def is_entry_whole(self):
-        """Whether the newest entry has rows, a last one that may be it, and all that they lead to."""
-        rows = self.entries[-1][5]
+    def is_whole(self):
+        """Whether the text can end here: the newest entry has its rows, and all that they lead to."""
+        rows = self.entries[-1][5] if self.entries else []
         if not rows or rows[-1][0] not in LAST_WORDS:
             return False
         targets = [target_of(row) for row in rows]

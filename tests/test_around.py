@@ -264,6 +264,21 @@ class Names(unittest.TestCase):
         play = (("call", "e", 1), ("call", "c", 1), ("call", "g", 1), ("call", "d", 1), ("back", 0), ("back", 0), ("back", 2), ("back", 2))
         self.assertEqual(own_run(book, guest, around(book, guest, play), (), 9), "shows")
 
+    def test_more_names_than_letters(self):
+        book = Book(16, True, 1, False, False)
+        text = "module m\nclass box 2\nroom 15\nforeign far\ncell k thing far\nentry a x num 2 thing box\nlocal t thing box\n" \
+            "make t box x\nback t\nentry f x thing far thing far\nback x"
+        guest = read_module(text)
+        play = ()
+        for place in range(1, 16):
+            play += (("call", "a", 1), ("back", place), ("call", "f", place), ("back", place))
+        for end in (56, 60):
+            amid = around(book, guest, play[:end])
+            self.assertGreater(len(amid.cells), 26)
+            self.assertEqual(own_run(book, guest, amid, (), 40), "shows")
+        play = play[:56] + (("call", "f", 1), ("back", 2))
+        self.assertEqual(own_run(book, guest, around(book, guest, play), (), 40), "never")
+
 
 if __name__ == "__main__":
     unittest.main()

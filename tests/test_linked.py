@@ -48,6 +48,8 @@ copy q x
 back k
 set k 1
 back k
+entry old x num 3 thing box
+back v
 entry p x num 3 num 3
 call v h q
 back x
@@ -62,6 +64,7 @@ out j num 3 thing jar
 out r thing box num 2
 out f thing far num 3
 out p num 3 num 3
+out old num 3 thing box
 out l num 3 num 3
 """
 
@@ -152,6 +155,8 @@ class Runs(unittest.TestCase):
         self.assertEqual(self.run_of(rows, inner=inner), "shows")
         # Two boxes are unlike, and one handed out again is the same.
         self.assertEqual(self.run_of("call t bb k\ncall u bb k\nsame t u 4\nshow\nback x", inner=inner), "shows")
+        # Behind a jar the first box goes out again: it is still the first one.
+        self.assertEqual(self.run_of("call t bb k\ncall j j x\ncall u old x\nsame t u 5\nback x\nshow", inner=inner), "shows")
         rows = "call t bb k\nset x 1\ncall x p x\nback x"
         self.assertEqual(self.run_of(rows, inner=inner, h="local b thing box\nsame z z 2\nback b\nshow"), "shows")
 

@@ -20,7 +20,7 @@ CELLS = (("c", DIGIT, False), ("s", BIT, True), ("d", DIGIT, True), ("bx", BOX, 
 OUTS = (("g", BIT, DIGIT), ("h", BOX, FAR))
 LOCALS = (
     ("k", DIGIT), ("l", BIT), ("by", BOX), ("ja", JAR), ("fa", FAR), ("fb", FAR), ("of", OFF), ("box", BIT), ("g", DIGIT),
-    ("e", JAR),
+    ("e", JAR), ("one", ("num", 1)),
 )
 
 
@@ -166,7 +166,7 @@ class Parts(unittest.TestCase):
             ("z", ("num", 0), False), ("z", ("num", 17), True), ("z", ("num", True), True), ("z", ("num",), True),
             ("z", ("box",), False), ("z", ("num", 2, 2), True), ("z", "num", True), ("z", BIT, True, True), ("c", BIT, False),
             ("box", BIT, False), ("far", BIT, False), ("z", ("thing", 0), False), ("z", ("Num", 2), False),
-            ("z", (["num"], 2), False), ("z", ("thing", ["box"]), False),
+            ("z", ("Thing", "box"), False), ("z", ("box", "box"), False), ("z", (["num"], 2), False), ("z", ("thing", ["box"]), False),
         ]:
             self.assertEqual(wrong_place(cells=CELLS[:2] + (told, None), outs=None), ("cells", 2))
 
@@ -271,6 +271,9 @@ class Rows(unittest.TestCase):
         self.unfit(("make", "fa", "far", "k"), ("make", "by", "far", "k"), ("make", "by", "box", "by"), ("make", "ja", "box", "k"))
         self.unfit(("read", "l", "bx"), ("read", "k", "ja"), ("read", "k", "fa"), ("read", "k", "k"), ("read", "by", "bx"))
         self.unfit(("write", "bx", "l"), ("write", "ja", "k"), ("write", "fa", "k"), ("write", "k", "k"), ("write", "bx", "bx"))
+        self.unfit(("read", "one", "fa"), ("read", "by", "k"), ("read", "no", "no"), ("read", "fa", "fa"), ("read", "one", "no"))
+        self.unfit(("write", "fa", "one"), ("write", "k", "by"), ("write", "no", "no"), ("write", "fa", "fa"), ("write", "k", "one"))
+        self.unfit(("make", "fa", "far", "one"), ("make", "fa", "far", "by"), ("make", "by", "no", "one"), ("make", "k", 3, "one"))
         self.unfit(("same", "by", "ja", 0), ("same", "fa", "of", 0), ("same", "k", "k", 0), ("same", "by", "fa", 0))
         for name in NOBODY:
             self.unfit(("make", name, "box", "k"), ("make", "by", name, "k"), ("make", "by", "box", name))

@@ -93,7 +93,7 @@ class Webs(unittest.TestCase):
         good = [(0, 1, 1, 0), (0, 1, 1, 1), (0, 1, 2, 0)]
         for step in values() + [
             (0, 1, 2, 2), (2, 1, 1, 0), (0, 0, 1, 0), (0, 1, 5, 0), (0, 5, 1, 0), (0, 1, 0, 1), (0, True, 1, 0),
-            (0, 1, 1, 0, 0), (1, 1, 1), (1, 1, 1, -1), (0, 1, 2, 0), (0, 1, 1, 1), (0, 1, 1, 0), (False, 4, 4, 0),
+            (0, 1, 1, 0, 0), (1, 1, 1), (1, 1, 1, -1), (1, 0, 1, 0), (1, 1, 0, 0), (1, 5, 1, 0), (1, 1, 5, 0), (1, False, 1, 0), (0, 1, 2, 0), (0, 1, 1, 1), (0, 1, 1, 0), (False, 4, 4, 0),
         ]:
             self.assertEqual(caught(InvalidWeb, need_web, (2, good + [step, None])), 3)
         self.assertEqual(caught(InvalidWeb, need_web, (2, good[::-1])), 1)
@@ -133,6 +133,17 @@ class Webs(unittest.TestCase):
         self.assertEqual([told(pair, bound) for bound in range(300)], slow_parts(web, 299))
         self.assertEqual(pair[1], (True,))
         self.assertIs(is_parted(web, 10 ** 18), True)
+
+    def test_single_rings(self):
+        # Where there is one way alone, a ring on which the gap comes back now and then parts late.
+        rng = random.Random(31)
+        for _ in range(400):
+            levels = rng.randint(1, 4)
+            steps = [(at, rng.randint(1, 4), rng.randint(1, 4), (at + 1) % levels) for at in range(levels)]
+            if levels > 1 and rng.random() < 0.3:
+                steps[-1] = steps[-1][:3] + (1,)
+            pair = parted_bounds((levels, steps))
+            self.assertEqual([told(pair, bound) for bound in range(130)], slow_parts((levels, steps), 129), steps)
 
     def test_short_as_can_be(self):
         rng = random.Random(26)
