@@ -4,7 +4,7 @@ import random
 import unittest
 
 from nomoreseen.errors import InvalidBook, InvalidModule, InvalidPlay, InvalidText
-from nomoreseen.modules import Book, Module
+from nomoreseen.modules import Book
 from nomoreseen.texts import book_text, module_text, play_text, read_book, read_module, read_play
 from tests.anything import BOOK, MODULE, caught, values
 from tests.makers import random_book, random_doors, random_guest
