@@ -1,9 +1,10 @@
 """Plain runs: states, in-moves, and how a module answers them."""
 
 from nomoreseen.errors import Refused
-from nomoreseen.modules import is_own, need_module
+from nomoreseen.modules import need_module
 from nomoreseen.runs import move_fits, went_through
-from nomoreseen.states import first_state, frame_kinds, need_in_move, need_secrets, need_state
+from nomoreseen.states import first_state, need_in_move, need_secrets, need_state
+from nomoreseen.trims import trim
 
 
 def begin(module, secrets):
@@ -46,33 +47,4 @@ def _gone(module, state, move):
 def trimmed(module, state):
     """The state with its things renumbered as one first comes to them."""
     need_module(module)
-    cells, things, handed, came, waiting = need_state(module, state)
-    kinds = [cell[1] for cell in module.cells]
-    met = list(handed) + _things_held(module, kinds, cells)
-    for entry, _, held in waiting:
-        met.extend(_things_held(module, frame_kinds(module, entry), held))
-    order = list({thing: True for thing in met})
-    numbers = {thing: at + 1 for at, thing in enumerate(order)}
-    numbers[0] = 0
-    frames = tuple([
-        (entry, row, _renumbered(module, frame_kinds(module, entry), held, numbers))
-        for entry, row, held in waiting
-    ])
-    return (
-        _renumbered(module, kinds, cells, numbers),
-        tuple([things[thing - 1] for thing in order]) + ((0, 0),) * (len(things) - len(order)),
-        tuple([numbers[thing] for thing in handed]),
-        came,
-        frames,
-    )
-
-
-def _things_held(module, kinds, held):
-    """The numbers of the own things that variables of these kinds hold."""
-    return [held[at] for at, kind in enumerate(kinds) if is_own(module, kind) and held[at] != 0]
-
-
-def _renumbered(module, kinds, held, numbers):
-    return tuple([
-        numbers[held[at]] if is_own(module, kind) else held[at] for at, kind in enumerate(kinds)
-    ])
+    return trim(module, need_state(module, state))

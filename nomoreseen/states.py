@@ -36,7 +36,7 @@ def need_state(module, value):
         raise InvalidState(3)
     if not _are_held(module, things, came, [cell[1] for cell in module.cells], cells):
         raise InvalidState(0)
-    if not is_sequence(waiting) or not all([_is_frame(module, things, came, frame) for frame in waiting]):
+    if not is_sequence(waiting) or not all([is_frame(module, things, came, frame) for frame in waiting]):
         raise InvalidState(4)
     return frozen(value)
 
@@ -81,7 +81,7 @@ def _is_held(module, things, came, kind, value):
     return value == 0 or things[value - 1][0] == module.own_at[told]
 
 
-def _is_frame(module, things, came, value):
+def is_frame(module, things, came, value):
     """Whether a call can wait so: (entry, row of the call, what parameter and locals hold)."""
     if not is_row(value, 3) or not is_below(value[0], len(module.entries)):
         return False

@@ -43,6 +43,18 @@ def frozen(value):
     return value
 
 
+def is_tuples(value):
+    """Whether this is a tuple, with tuples in the place of all lists within."""
+    return isinstance(value, tuple) and not has_lists(value)
+
+
+def has_lists(value):
+    """Whether this is a list, or has one within."""
+    if isinstance(value, list):
+        return True
+    return isinstance(value, tuple) and any([has_lists(part) for part in value])
+
+
 def places_of(things):
     """For each thing, a name, its number."""
     return {thing: at for at, thing in enumerate(things)}
