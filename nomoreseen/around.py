@@ -35,7 +35,7 @@ class Plan:
     def __init__(self, book, module, play, kinds):
         self.module = module
         self.word = book.word
-        self.play = play
+        self.moves_told = play
         self.kinds = kinds
         self.names = Names(module)
         self.cells = []
@@ -57,7 +57,7 @@ class Plan:
     def count_digits(self):
         """Cells that can count all in-moves."""
         least = 1
-        while least <= len(self.play) // 2:
+        while least <= len(self.moves_told) // 2:
             self.digits.append(self.new_cell(("num", self.word)))
             least = least * self.word
 
@@ -71,7 +71,7 @@ class Plan:
 
     def keep_things(self):
         """A cell for each thing that goes over, where it first does."""
-        for at, move in enumerate(self.play):
+        for at, move in enumerate(self.moves_told):
             kind, is_new = self.kinds[at]
             if is_new and at % 2 == 0:
                 self.made[(kind[1], move[-1])] = self.new_cell(kind)
@@ -81,7 +81,7 @@ class Plan:
     def find_comings(self):
         """Where the turn comes back: to a call that returns, or to a function that the guest calls."""
         calls = []
-        for at, move in enumerate(self.play):
+        for at, move in enumerate(self.moves_told):
             if at % 2 == 0 and move[0] == "call":
                 calls.append(at // 2)
             elif at % 2 == 1 and move[0] == "call":
@@ -153,7 +153,7 @@ class Function:
         """Goes on only if a variable holds what the play's last out-move brings; a new thing is kept."""
         at = 2 * done - 1
         kind, is_new = self.plan.kinds[at]
-        value = self.plan.play[at][-1]
+        value = self.plan.moves_told[at][-1]
         if kind[0] == "num":
             self.must(("if", variable, value))
         elif is_new:
@@ -175,7 +175,7 @@ class Function:
     def brought(self, done):
         """The variable that holds what the next in-move brings; the rows ahead put it there."""
         kind, is_new = self.plan.kinds[2 * done]
-        value = self.plan.play[2 * done][-1]
+        value = self.plan.moves_told[2 * done][-1]
         if kind[0] == "num":
             variable = self.local("brought", kind)
             self.rows.append(("set", variable, value))
@@ -188,7 +188,7 @@ class Function:
 
     def does(self, done):
         """Does the in-move behind so many; the variable to which its call returns, None for a back."""
-        move = self.plan.play[2 * done]
+        move = self.plan.moves_told[2 * done]
         variable = self.brought(done)
         for cell, digit in self.plan.digits_of(done + 1):
             self.rows.append(("set", cell, digit))
@@ -202,7 +202,7 @@ class Function:
 
     def goes_on(self, done):
         """The in-moves of one coming, from the one behind so many on, each return looked at."""
-        while 2 * done < len(self.plan.play):
+        while 2 * done < len(self.plan.moves_told):
             variable = self.does(done)
             if variable is None:
                 return

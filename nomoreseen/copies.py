@@ -28,6 +28,10 @@ class Copies:
         """The lawful backs into these frames at these bases."""
         return lawful_backs(self.book, self.modules[0], bases[0] + ((frames[0],),))
 
+    def asked_of(self, frames):
+        """All of frames by which backs into them go."""
+        return frames
+
     def outcome(self, bases, frames, move):
         """(word, frames, bases) behind a move."""
         out, behind = self._answer(0, bases[0], None if frames is None else frames[0], move)

@@ -45,7 +45,17 @@ class Facts:
 
     def is_behind(self, call):
         """Whether somebody can come behind the call of this number."""
-        return (call == 0 and self._is_idle_bare()) or self.module.calls()[call] in self._held
+        entry, row = self.module.calls()[call]
+        return (call == 0 and self._is_idle_bare()) or self.is_reached(entry, row)
+
+    def is_reached(self, entry, row):
+        """Whether this row is reached."""
+        return (entry, row) in self._held
+
+    def leads(self, entry, row):
+        """The rows of its entry that a reached row, which doesn't go out, can go on to, ascending."""
+        told = ways(self.module.steps[entry][row], row, self._held[(entry, row)], self._laid_words, self.module.room)
+        return sorted({target: True for target, _ in told})
 
     def _is_idle_bare(self):
         return ("idle", "") not in self.guards

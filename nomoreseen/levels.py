@@ -3,6 +3,7 @@
 What is asked of the copies:
 first() is the pair of bases at the beginning;
 calls_at(bases, waits) are the moves that come in at a level, backs_at(frames, bases) those into a wait;
+asked_of(frames) is all of frames by which backs into them go;
 outcome(bases, frames, move) is (word, frames, bases) behind a move (into these frames, if it is not None):
 the word is "unlike", "never", "back" or "call".
 """
@@ -30,6 +31,7 @@ class Levels:
         self.begun_by = {}
         self.looked_opens = {}
         self.looked_waits = {}
+        self.asked = {}
         self.todo = deque()
         self.parting = None
 
@@ -79,6 +81,10 @@ class Levels:
 
     def _look_at_wait(self, wait):
         above = self.above[wait]
+        asked = (wait[0], self.copies.asked_of(wait[1]), above)
+        if asked in self.asked:
+            return
+        self.asked[asked] = True
         self.looked_waits.setdefault(above, []).append(wait)
         for told in self.looked_opens.get(above, []):
             self._come_back(wait, told)
@@ -142,10 +148,16 @@ def is_closed(copies, opens, waits):
         for move in copies.calls_at(bases, level[1]):
             if not _is_led(copies.outcome(bases, None, move), level, known_opens, known_waits):
                 return False
+    asked = {}
     for level, frames, begun in known_waits:
         above = (begun, True)
         if (above, begun) not in known_opens:
             return False
+        # What backs into these frames come to was looked at if others go by the same.
+        told = (level, copies.asked_of(frames), begun)
+        if told in asked:
+            continue
+        asked[told] = True
         for bases in later[above]:
             for move in copies.backs_at(frames, bases):
                 if not _is_led(copies.outcome(bases, frames, move), level, known_opens, known_waits):

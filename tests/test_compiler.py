@@ -133,7 +133,7 @@ def variations(value, rng, many):
             return rng.choice([int(part), not part])
         if type(part) is int:
             return rng.choice([part + 1, part - 1, str(part)] + ([bool(part)] if part in (0, 1) else []))
-        return rng.choice(["", "e", "n", "wipe", None, part + "x"])
+        return rng.choice(["", "e", "n", "wipe", None, (), str(part) + "x"])
 
     for _ in range(many):
         yield changed(value, rng.choice(places), change)
