@@ -113,11 +113,11 @@ class Facts:
             if step[0] == "call":
                 self._leave(entry, row, step, held)
             return
-        self._lay(words_laid(step, held, self.module.room))
+        self._put_words(words_laid(step, held, self.module.room))
         for target, behind in ways(step, row, held, self._laid_words, self.module.room):
             self._join(entry, target, behind)
 
-    def _lay(self, words):
+    def _put_words(self, words):
         if words | self._laid_words != self._laid_words:
             self._laid_words = words | self._laid_words
             self._grew = True

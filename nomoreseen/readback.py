@@ -44,12 +44,12 @@ def _has_form(value):
     if not _is_tuple(value, 6) or not all([isinstance(part, tuple) for part in value]):
         return False
     book_told, head, doors, blocks, behind, resume = value
-    if len(book_told) != 5 or len(head) != 7 or not isinstance(head[5], tuple) or not isinstance(head[6], tuple):
+    if len(book_told) != 5 or len(head) != 7 or not isinstance(head[6], tuple):
         return False
     many = len(head[6])
     if len(doors) != many or len(blocks) != many or not _are_rows(resume):
         return False
-    if not all([_is_tuple(entry, 6) and isinstance(entry[4], tuple) for entry in head[6]]):
+    if not all([_is_tuple(entry, 6) for entry in head[6]]):
         return False
     if not all([_are_rows(rows) for rows in doors + behind]):
         return False

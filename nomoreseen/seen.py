@@ -17,7 +17,7 @@ class Seen:
         while self._grew:
             self._grew = False
             for entry, steps in enumerate(facts.module.steps):
-                for row in range(len(steps))[::-1]:
+                for row in reversed(range(len(steps))):
                     if facts.is_reached(entry, row):
                         self._look(entry, row, steps[row])
                 self._rest(self.ahead(entry, 0))

@@ -174,11 +174,11 @@ def _put_field(run, row):
         run.things[number - 1] = (thing[0], run.registers[row[2]])
 
 
-def _own(run, row):
+def _kept(run, row):
     run.own.append((row[1], tuple(run.frame)))
 
 
-def _lay(run, row):
+def _opened(run, row):
     run.own.append((row[1],))
     run.laid.append(tuple(run.frame))
 
@@ -254,7 +254,7 @@ def _wipe(run, row):
 STEPS = {
     "const": _const, "load": _load, "store": _store, "plus": _plus, "equal": _equal, "same": _same,
     "jump": _jump, "jumpif": _jump_if, "make": _make, "field": _field, "putfield": _put_field,
-    "own": _own, "lay": _lay, "resume": _resume, "hand": _hand, "within": _within, "out": _out,
+    "own": _kept, "lay": _opened, "resume": _resume, "hand": _hand, "within": _within, "out": _out,
     "answer": _answer, "alone": _alone, "idle": _idle, "below": _below, "given": _given,
     "class": _class, "wipe": _wipe,
 }

@@ -274,6 +274,60 @@ class Papers(unittest.TestCase):
         ]:
             self.assertFalse(calm_holds(*told, (more, paper[1] + ((level, frames, bases),))), frames)
 
+    def test_frames_of_one_copy_alone(self):
+        # What the one keeps in its frame comes to a hidden cell; the other keeps nothing.
+        module = module_of("room 0", "secret s num 2", "cell n num 3", "out g num 3 num 3", "entry e x num 3 num 3", "local t num 3", "local b num 3",
+                           "if s 1 3", "copy t x", "go 3", "set x 0", "call b g x", "copy n t", "set b 0", "back b")
+        code = guarded(HAND, module, ())
+        for secrets, others, at in (((0,), (1,), 0), ((1,), (0,), 1)):
+            told = (HAND, module, (), secrets, others)
+            paper = calm_paper(*told)
+            self.assertEqual({bases[at][0][1] for _, bases in paper[0]}, {0, 1, 2})
+            self.assertEqual({bases[1 - at][0][1] for _, bases in paper[0]}, {0})
+            first = tuple(first_room(code, row)[:3] for row in (secrets, others))
+            self.assertTrue(is_calm(code, first, paper))
+            for thing in paper[0]:
+                self.assertFalse(calm_holds(*told, (tuple(part for part in paper[0] if part != thing), paper[1])))
+
+    def test_an_open_frame_above_a_kept_one(self):
+        module = module_of("room 0", "secret s num 2", "out g num 3 num 3", "out h num 3 num 3", "entry e x num 3 num 3", "call x g x", "back x",
+                           "entry f x num 3 num 3", "local t num 3", "local c num 2", "call x h x", "if t 0 5", "if t 1 5", "if s 0 5", "go 4",
+                           "set x 0", "back x")
+        bare = (("frame", "h"),)
+        script = deep_leak(INSIDE, module, bare, (0,), (1,))
+        code = guarded(INSIDE, module, bare)
+        one, other = sights(code, (0,), script), sights(code, (1,), script)
+        self.assertEqual((one[:-1], one[-1] == other[-1]), (other[:-1], False))
+        # Only amid a call of g that waits, whose frame is kept, f may be called.
+        module = module_of("room 0", "secret s num 2", "cell n num 2", "out g num 3 num 3", "out h num 3 num 3", "entry e x num 3 num 3",
+                           "set n 1", "call x g x", "set n 0", "back x", "entry f x num 3 num 3", "local t num 3", "if n 0 0", "call x h x", "if t 2 4",
+                           "back x", "if s 0 3", "set x 0", "back x")
+        script = deep_leak(INSIDE, module, bare, (0,), (1,))
+        code = guarded(INSIDE, module, bare)
+        one, other = sights(code, (0,), script), sights(code, (1,), script)
+        self.assertEqual((one[:-1], one[-1] == other[-1], len(script)), (other[:-1], False, 3))
+        self.assertTrue(all(change[0] == 0 for change in script[-1][-1]))
+
+    def test_waits_that_are_none(self):
+        module = module_of("room 0", "secret s num 2", "out g num 3 num 3", "out h num 3 num 3", "entry e x num 3 num 3", "if s 0 3", "call x g x", "go 2",
+                           "call x g x", "go 4", "entry f x num 3 num 3", "call x h x", "go 1")
+        told = (HAND, module, (), (0,), (1,))
+        paper = calm_paper(*told)
+        level, frames, bases = next(wait for wait in paper[1] if wait[1][0][0][0] == 1)
+        self.assertEqual(frames[1][0][0], 0)
+        right = (level, (((1, (2,)), ()), ((0, (1,)), ())), bases)
+        self.assertTrue(calm_holds(*told, (paper[0], paper[1] + (right,))))
+        unlike = (((2, (2,)), ()), ((0, (1,)), ()))
+        wrong = [(level, unlike, bases), (level, unlike[::-1], bases), ((level[0], 1), frames, bases), ((level[0], None), frames, bases), (level[0], frames, bases),
+                 ((), frames, bases), (((level[0][0], ((9,), (), ())), True), frames, bases), (level, frames, (bases[0],)), (level, frames, 5)]
+        for wait in wrong:
+            self.assertFalse(calm_holds(*told, (paper[0], paper[1] + (wait,))), wait)
+        for flag in (0, 1, None, "", ()):
+            self.assertFalse(calm_holds(*told, (paper[0] + (((level[0], flag), bases),), paper[1])))
+        for value in (None, 5, "ab", MODULE):
+            self.assertFalse(calm_holds(*told, (value, paper[1])))
+            self.assertFalse(calm_holds(*told, (paper[0], value)))
+
     def test_wrong_bases(self):
         book = Book(3, True, 2, False, False)
         module = module_of("class box 3", "class jar 3", "room 1", "secret s num 2", "entry e x num 3 num 3", "back x")

@@ -191,6 +191,7 @@ class ReadBack(unittest.TestCase):
             wrong += [told[:at] + (value,) + told[at + 1:] for value in values()]
         for value in wrong:
             self.assertEqual(caught(InvalidCode, read_code, value), -1, value)
+        self.check_forged_rows(told)
         # Forged shapes: a jump out of the rows, a call whose guard stands but once, a thing in a number's place.
         book, module = Book(3, False, 0, True, False), module_of(
             "room 0", "out g num 3 num 3", "entry e x num 3 num 3", "call x g x", "call x g x", "back x")
@@ -199,6 +200,34 @@ class ReadBack(unittest.TestCase):
         for blocks in (half, right[3][0][:2] + ((("jump", 3),),), right[3][0][:1] + right[3][0][:1] + right[3][0][2:], right[3][0][:2]):
             self.assertEqual(caught(InvalidCode, read_code, right[:3] + ((blocks,),) + right[4:]), -1)
         self.assertEqual(read_code(value=right)[1].told, module.told)
+
+    def check_forged_rows(self, told):
+        odd = [(), ("load",), ("resume",), ("idle",), ("answer",), ([],), (["load"], 0, 0), (None,), ("own", 9), ("own", None), ("out", 5), ("out", []),
+               ("jump", 0, 0), ("hand", 0, True), ("load", 0, 99), ("load", 0, [0]), ("store", [], 0), ("make", 2, 7), "load", None, 5, ["jump", 0]]
+
+        def put(value, at, row):
+            """The value with another row, or none, or the row twice, at this place."""
+            if len(at) == 1:
+                rows = {"none": (), "twice": value[at[0]:at[0] + 1] * 2}.get(row, (row,)) if isinstance(row, str) else (row,)
+                return value[:at[0]] + rows + value[at[0] + 1:]
+            return value[:at[0]] + (put(value[at[0]], at[1:], row),) + value[at[0] + 1:]
+
+        places = [(part, entry, row) for part in (2, 4) for entry, rows in enumerate(told[part]) for row in range(len(rows))]
+        places += [(3, entry, block, row) for entry, blocks in enumerate(told[3]) for block, rows in enumerate(blocks) for row in range(len(rows))]
+        for at in places + [(5, 0)]:
+            for row in odd + ["none", "twice"]:
+                value = put(told, at, row)
+                if repr(value) == repr(told):
+                    continue
+                try:
+                    self.assertEqual(repr(compiled(*read_code(value)).told), repr(value))
+                except InvalidCode as error:
+                    self.assertEqual(error.at, -1)
+        heads = told[1][6]
+        for wrong in (heads[:2] + (heads[2][:5],), heads[:2] + (list(heads[2]),), heads[:2] + (heads[2][:4] + ([], ()),), heads[:2] + (5,)):
+            self.assertEqual(caught(InvalidCode, read_code, told[:1] + (told[1][:6] + (wrong,),) + told[2:]), -1)
+        for head in (told[1][:6], told[1] + ((),), told[1][:5] + (list(told[1][5]), heads), told[1][:5] + (None, heads)):
+            self.assertEqual(caught(InvalidCode, read_code, told[:1] + (head,) + told[2:]), -1)
 
 
 if __name__ == "__main__":

@@ -216,6 +216,13 @@ class ByHand(unittest.TestCase):
         self.assertEqual(classed.words_at(1, 0)[1], zero)
         self.assertIsNone(classed.words_at(1, 1))
         self.assertEqual(classed.words_at(2, 0)[1], every)
+        module = module_of("class box 2", "class jar 2", "room 2", "entry e x num 2 thing box", "local b thing box", "make b box x", "back b",
+                           "entry f j thing box num 4", "local u num 4", "local b thing box", "local x num 2", "same j b 2", "back u", "make b box x",
+                           "same b j 5", "back u", "same b j 6", "back u")
+        full = Facts(BOOK, module, spots(BOOK, module))
+        self.assertEqual((full.words_at(1, 0)[0], full.words_at(1, 1)[0], full.words_at(1, 3)[0]), ((0, 1, 2), (0, 1, 2), (0,)))
+        # A new thing is never none, which is what the parameter still is here.
+        self.assertEqual((full.words_at(1, 4), full.words_at(1, 5)), (((0,), zero, (1, 2), zero, (1, 2), zero, zero), None))
         empty = module_of("class box 2", "room 0", "cell b thing box", "entry e x num 2 thing box", "make b box x", "back b")
         self.assertIsNone(Facts(BOOK, empty, ()).words_at(0, 1))
         self.assertEqual(Facts(BOOK, empty, ()).fields(), zero)

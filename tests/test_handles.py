@@ -109,6 +109,18 @@ class ByHand(unittest.TestCase):
         self.assertEqual(needs(BOOK, module, (), moves[:2]), (1,))
         self.assertEqual(needs(BOOK, module, (), moves), ())
 
+    def test_places_that_only_go_out(self):
+        module = module_of(
+            "class box 2", "room 2", "cell b thing box", "cell c thing box", "out g thing box num 3", "entry make x num 2 thing box", "make c box x",
+            "make b box x", "back b", "entry say x num 2 num 3", "local k num 3", "call k g b", "back k")
+        make, say = ("call", "make", 0), ("call", "say", 0)
+        self.assertEqual(needs(BOOK, module, (), (make,)), (1,))
+        self.assertEqual(need_play(BOOK, module, (), (make,), 1), (say,))
+        self.assertEqual(need_play(BOOK, module, (), (make, say), 1), (("back", 0), say))
+        # The other thing is made, too, but it was never handed out.
+        self.assertEqual(caught(InvalidSize, need_play, BOOK, module, (), (make,), 2), "place")
+        self.assertEqual(list_room(BOOK, module, ()), 1)
+
     def test_errors(self):
         make = ("call", "make", 0)
         inside = Book(3, True, 2, True, True)

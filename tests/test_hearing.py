@@ -8,7 +8,7 @@ from nomoreseen.crossings import crossings
 from nomoreseen.errors import InvalidLink, InvalidLots, InvalidPlay, InvalidSecrets, InvalidSize, Refused
 from nomoreseen.hearing import greatest_deaf, least_hearing, plans_of, plans_run, rest_pairs, rest_pairs_hold, rest_parting
 from nomoreseen.linker import Program
-from nomoreseen.modules import Module
+from nomoreseen.modules import Book, Module
 from nomoreseen.rests import begin_rest, rest_answered, rest_moves, rest_play
 from tests.anything import caught, values
 from tests.programs import random_fallen, random_program, random_secrets
@@ -197,6 +197,22 @@ class Pairs(unittest.TestCase):
         # At unlike piles the lawful moves are others, or there is none.
         self.assertFalse(rest_pairs_hold(*told, pairs + ((pairs[0][0], pairs[1][1]),)))
 
+    def test_frames_in_the_entry_that_was_called(self):
+        root = part("root", "out p num 3 num 3", "out q num 3 num 3", "entry run x num 3 num 3", "call x p x", "call x q x", "back x")
+        mid = part("mid", "out d num 3 num 3", "entry ea x num 3 num 3", "call x d x", "back x", "entry eb x num 3 num 3", "call x d x", "back x")
+        leaf = part("leaf", "entry go x num 3 num 3", "back x")
+        links = (("root", "p", "mid", "ea"), ("root", "q", "mid", "eb"), ("mid", "d", "leaf", "go"))
+        program = Program(BOOK, (root, mid, leaf), links, ("root", "run"))
+        told = (program, program, ("leaf",), ((),) * 3, ((),) * 3)
+        pairs = rest_pairs(*told)
+        self.assertTrue(rest_pairs_hold(*told, pairs))
+        for state, later in pairs[1:]:
+            entry, row, held = state[1][1][4][0]
+            for frame, wanted in (((entry, row, (2,)), True), ((1 - entry, row, held), False)):
+                changed = state[:1] + ((state[1][0], state[1][1][:4] + ((frame,),), None), True)
+                self.assertIs(rest_pairs_hold(*told, pairs + ((changed, later),)), wanted)
+                self.assertIs(rest_pairs_hold(*told, pairs + ((later, changed),)), wanted)
+
     def test_small_changes(self):
         rng = random.Random(47)
         for fallen in (("root",), ("left",), ("root", "down"), ("down",)):
@@ -215,8 +231,17 @@ class Pairs(unittest.TestCase):
         kinds = Program(BOOK, PROGRAM.modules[:2] + (part("right", "entry go y num 2 num 3", "local z num 3", "back z"),) + PROGRAM.modules[3:], LINKS,
                         ("root", "run"))
         self.assertEqual(rest_parting(PROGRAM, kinds, ("left",), SECRETS, SECRETS), (("main",), ("back", 0)))
+        head = Program(BOOK, (part("root", "secret s num 3", "out left num 3 num 3", "out right num 2 num 3", "entry run x num 2 num 3", "go 0"),)
+                       + PROGRAM.modules[1:], LINKS, ("root", "run"))
+        back = Program(BOOK, (part("root", "secret s num 3", "out left num 3 num 3", "out right num 2 num 3", "entry run x num 3 num 2", "go 0"),)
+                       + PROGRAM.modules[1:], LINKS, ("root", "run"))
+        name = Program(BOOK, PROGRAM.modules[:3] + (part("deep", "entry go x num 3 num 2", "go 0"),), LINKS[:1] + (("left", "down", "deep", "go"),)
+                       + LINKS[2:], ("root", "run"))
+        word = Program(Book(3, True, 0, True, False), PROGRAM.modules, LINKS, ("root", "run"))
+        self.assertIsNone(rest_parting(PROGRAM, word, ("left",), SECRETS, SECRETS))
+        wide = Program(Book(4, True, 0, True, False), PROGRAM.modules, LINKS, ("root", "run"))
         for call in (rest_parting, rest_pairs, lambda *told: rest_pairs_hold(*told, None)):
-            for value in values() + [other, turned]:
+            for value in values() + [other, turned, head, back, name, wide]:
                 if value is not PROGRAM:
                     self.assertEqual(caught(InvalidLink, call, PROGRAM, value, None, None, None), -1)
                     self.assertEqual(caught(InvalidLink, call, value, PROGRAM, None, None, None), -1)

@@ -108,7 +108,7 @@ class Deeds(unittest.TestCase):
         room = first_room(code, (0,))
         for deed in [
             ("call", "e", 0), ("call", "e", 4, ()), ("call", "e", True, ()), ("call", "e", -1, ()), ("call", "g", 0, ()), ("back", 4, ()),
-            ("call", 0, 0, ()), ("call", ["e"], 0, ()), ("back", 0), ("back", 0, (), ()), ("back", "e", 0, ()), ("call", 0, ()), (), None,
+            ("call", 0, 0, ()), ("call", ["e"], 0, ()), ("back", 0), ("back", 0, (), ()), ("back", "e", 0, ()), ("call", "e", 1, 0, ()), ("call", 0, ()), (), None,
             ("back", 0, ((0, 0),)), ("back", 0, ((0, 0, 4),)), ("back", 0, ((-1, 0, 0),)), ("back", 0, ((0, True, 0),)), ("back", 0, 0),
             ("back", 0, "abc"), ("never",), ("stay", 0, ()), (["back"], 0, ()), ("back", 0, (0, 0, 0)), {"back": 0}, "back 0",
         ]:

@@ -80,6 +80,8 @@ class Papers(unittest.TestCase):
             (paper[0], paper[1] + ((level, ([0, 3, (0, 0)], (0, 1, (0, 0))), level[0]),)),
             (paper[0] + ((level, (((0, False), (), (), ()), level[0][1])),), paper[1]),
         ]
+        for value in (None, 5, "ab", ALIKE):
+            wrong += [(value, paper[1]), (paper[0], value)]
         for value in wrong + values():
             self.assertIs(alike_holds(OUTS, ALIKE, ALIKE, (0,), (1,), value), False, value)
             for at in (0, 1):
@@ -94,22 +96,19 @@ class Papers(unittest.TestCase):
             "call x h x", "back b")
         def base(s, things, handed, came):
             return ((s,), things, handed, came)
-        def holds(one, other, frames):
-            """Whether bases and frames stand in a value that is looked at: the wait leads nowhere, as none comes back in."""
-            value = ((((( one, other), True), (one, other)), (first_level, first)), ())
-            waits = ((((one, other), True), frames, (one, other)),)
-            return value[0], waits
         first = (base(0, (), (), (0,)), base(0, (), (), (0,)))
-        first_level = (first, False)
         paper = alike_paper(book, module, module, (0,), (0,))
         self.assertTrue(alike_holds(book, module, module, (0,), (0,), paper))
         box, jar = (0, 1), (1, 1)
         def with_open(one, other):
             return (paper[0] + ((((one, other), True), (one, other)),), paper[1])
+        def with_level(one, other):
+            return (paper[0] + ((((one, other), True), first),), paper[1])
         good = [
             (base(0, (box, jar), (1,), (2,)), base(1, (jar, box), (2,), (2,))), (base(0, (), (), (7,)), base(0, (jar,), (), (7,))),
             (base(0, (box, jar), (2, 1), (0,)), base(1, (jar, box), (1, 2), (0,))),
         ]
+        good.append((base(0, (box, jar), (1,), (0,)), base(1, ((0, 0),), (1,), (0,))))
         bad = [
             (base(0, (box,), (1,), (0,)), base(1, (jar,), (1,), (0,))), (base(0, (box,), (1,), (0,)), base(1, (box,), (), (0,))),
             (base(0, (), (), (1,)), base(0, (), (), (0,))), (base(0, (box, jar), (1, 2), (0,)), base(1, (jar, box), (1, 2), (0,))),
@@ -119,6 +118,11 @@ class Papers(unittest.TestCase):
         for told, wanted in ((good, True), (bad, False)):
             for one, other in told:
                 self.assertIs(alike_holds(book, module, module, (0,), (0,), with_open(one, other)), wanted, (one, other))
+                self.assertIs(alike_holds(book, module, module, (0,), (0,), with_level(one, other)), wanted, (one, other))
+        for one in (5, None, "abcd", (), first[0] + (0,), first[0][:3], list(first[0]), module):
+            for two in (first[0], one):
+                self.assertFalse(alike_holds(book, module, module, (0,), (0,), with_level(one, two)))
+                self.assertFalse(alike_holds(book, module, module, (0,), (0,), with_open(two, one)))
         # Frames: of calls of one out, in states with these bases.
         wait = paper[1][0]
         for frames in [
@@ -128,16 +132,16 @@ class Papers(unittest.TestCase):
 
     def test_frames_at_the_opens_above(self):
         # A frame must fit all opens of the level above it, also those with fewer things.
-        book = Book(3, True, 1, True, True)
-        module = module_of("class box 3", "room 1", "out g num 3 num 3", "entry e x num 3 num 3", "local b thing box", "make b box x", "call x g x",
-                           "back x")
-        paper = alike_paper(book, module, module, (), ())
-        self.assertTrue(alike_holds(book, module, module, (), (), paper))
-        wait = paper[1][0]
-        self.assertEqual(wait[1][0][2][1], 1)
+        rows = ("out g num 3 num 3", "entry e x num 3 num 3", "local b thing box", "make b box x", "call x g x", "back x")
+        module = module_of("class box 3", "room 1", *rows)
         empty = begin(module, ())[:4]
-        level = (wait[2], True)
-        self.assertFalse(alike_holds(book, module, module, (), (), (paper[0] + ((level, (empty, empty)),), paper[1])))
+        for book in (Book(3, True, 1, True, True), Book(3, True, 1, True, False)):
+            paper = alike_paper(book, module, module, (), ())
+            self.assertTrue(alike_holds(book, module, module, (), (), paper))
+            wait = paper[1][0]
+            self.assertEqual(wait[1][0][2][1], 1)
+            level = (wait[2], True)
+            self.assertFalse(alike_holds(book, module, module, (), (), (paper[0] + ((level, (empty, empty)),), paper[1])))
 
     def test_random_guests(self):
         rng = random.Random(36)

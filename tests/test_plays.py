@@ -56,6 +56,10 @@ class Lawful(unittest.TestCase):
             state = ((0,), (), (), (came,), ())
             moves = [move for move in lawful_moves(THINGS, KEEPER, state) if move[1] == "keep"]
             self.assertEqual(moves, [("call", "keep", value) for value in range(most + 1)])
+        module = module_of("room 0", "foreign far", "entry e x thing far num 3", "local t num 3", "back t")
+        moves = [("call", "e", place) for place in (1, 2, 2, 3)]
+        self.assertEqual(answers(Book(3, False, 1, False, False), module, (), moves[:3]), (("back", 0),) * 3)
+        self.assertEqual(caught(Refused, answers, Book(3, False, 1, False, False), module, (), moves), 3)
 
     def test_random_states(self):
         rng = random.Random(27)
