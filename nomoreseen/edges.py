@@ -55,7 +55,7 @@ class Facts:
     def leads(self, entry, row):
         """The rows of its entry that a reached row, which doesn't go out, can go on to, ascending."""
         told = ways(self.module.steps[entry][row], row, self._held[(entry, row)], self._laid_words, self.module.room)
-        return sorted({target: True for target, _ in told})
+        return tuple(sorted({target: True for target, _ in told}))
 
     def _is_idle_bare(self):
         return ("idle", "") not in self.guards

@@ -35,7 +35,7 @@ class Seen:
         """The numbers of the variables seen right behind a call behind which somebody can come."""
         entry, row = self.call_rows[call]
         variable = self.facts.module.steps[entry][row][1]
-        return [at for at in self.ahead(entry, row + 1) if at >= 0 and at != variable]
+        return tuple([at for at in self.ahead(entry, row + 1) if at >= 0 and at != variable])
 
     def _look(self, entry, row, step):
         if step[0] in ("call", "back"):

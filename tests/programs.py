@@ -10,7 +10,7 @@ def random_program(rng, many=None, rows=5):
     """A program of 2 to 4 modules; modules call those behind them."""
     book = Book(rng.choice((3, 4)), rng.random() < 0.7, 0, True, False)
     many = many or rng.choice((2, 3, 3, 4))
-    names = list("abcd"[:many])
+    names = list("abcde"[:many])
     outs, heads, links = {name: [] for name in names}, {name: [] for name in names}, []
     heads["a"].append(("run", "x", kind(rng, book), kind(rng, book)))
     for at, callee in enumerate(names[1:], 1):

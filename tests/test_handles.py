@@ -121,6 +121,15 @@ class ByHand(unittest.TestCase):
         self.assertEqual(caught(InvalidSize, need_play, BOOK, module, (), (make,), 2), "place")
         self.assertEqual(list_room(BOOK, module, ()), 1)
 
+    def test_things_that_were_never_handed_out(self):
+        module = module_of("class box 2", "room 1", "cell b thing box", "entry make x num 2 num 2", "make b box x", "back x",
+                           "entry give x num 2 thing box", "back b")
+        make, give = ("call", "make", 0), ("call", "give", 0)
+        self.assertEqual([needs(BOOK, module, (), moves) for moves in ((), (make,), (make, give))], [(), (), (1,)])
+        self.assertEqual(caught(InvalidSize, need_play, BOOK, module, (), (make,), 1), "place")
+        lists = LeastLists(BOOK, module, ())
+        self.assertEqual([(lists.deed(move), lists.kept_places()) for move in (make, give)], [(("back", 0), ()), (("back", 1), (1,))])
+
     def test_errors(self):
         make = ("call", "make", 0)
         inside = Book(3, True, 2, True, True)

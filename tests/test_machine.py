@@ -179,6 +179,12 @@ class Deeds(unittest.TestCase):
         # The order is 2, 1, 3: number 3 is no thing.
         reads = [entered(code, room, ("call", "read", word, ()))[0][0] for word in range(4)]
         self.assertEqual(reads, [("never",), ("back", 1), ("back", 2), ("back", 0)])
+        by_number = code_of(WHOLE, BOX, ("number", ""))
+        reads = [entered(by_number, room, ("call", "read", word, ()))[0][0] for word in range(4)]
+        self.assertEqual(reads, [("never",), ("never",), ("back", 1), ("never",)])
+        other = room[:2] + (((2, 1), (1, 0)),) + room[3:]
+        reads = [entered(by_number, other, ("call", "read", word, ()))[0][0] for word in range(4)]
+        self.assertEqual(reads, [("never",), ("back", 2), ("never",), ("never",)])
         guarded = code_of(WHOLE, BOX)
         reads = [entered(guarded, room, ("call", "read", word, ()))[0][0] for word in range(4)]
         self.assertEqual(reads, [("never",), ("back", 1), ("never",), ("never",)])

@@ -125,7 +125,7 @@ class Errors(unittest.TestCase):
 
     def test_moves(self):
         state = begin_rest(PROGRAM, ("root",), SECRETS)
-        for value in values() + [("call", 0, 3), ("call", 3, 0), ("call", 1, 0), ("call", True, 0), ("call", 0, False), ("back", 0), ("main",),
+        for value in values() + [("call", 0, 3), ("call", 3, 0), ("call", 1, 0), ("call", True, 0), ("call", False, 0), ("call", 0, False), ("call", 2, True), ("back", 0), ("main",),
                                  ("call", 0, 0, 0), ("call", "left", 0), ("call", -1, 0), ("call", 0), [], None]:
             self.assertEqual(caught(Refused, rest_answered, PROGRAM, ("root",), state, value), 0, value)
             self.assertEqual(caught(Refused, rest_play, PROGRAM, ("root",), SECRETS, (("call", 2, 0), value)), 1)
