@@ -56,7 +56,6 @@ def is_closed(one, other, fallen, first, value):
 
 def changed_program(rng, program):
     """A program of the same frame in which one module has other rows."""
-    other = random_program(rng, len(program.modules))
     for _ in range(30):
         at = rng.randrange(len(program.modules))
         module = program.modules[at]
@@ -73,7 +72,7 @@ def changed_program(rng, program):
         if made.told != module.told:
             modules = program.modules[:at] + (made,) + program.modules[at + 1:]
             return Program(program.book, modules, program.links, program.main)
-    return other if other.links == program.links else program
+    return program
 
 
 class Partings(unittest.TestCase):
