@@ -124,10 +124,10 @@ class Facts:
 
     def _go_out(self, entry, step, held):
         """Cells come to rest, and what goes out is handed out."""
-        for at, words in enumerate(self._rest_words):
-            if held[at] | words != words:
-                self._rest_words[at] = held[at] | words
-                self._grew = True
+        rest = [words | held[at] for at, words in enumerate(self._rest_words)]
+        if rest != self._rest_words:
+            self._rest_words = rest
+            self._grew = True
         is_call = step[0] == "call"
         kind = self.module.outs[step[2]][1] if is_call else self.module.entries[entry][3]
         if is_own(self.module, kind):

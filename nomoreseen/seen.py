@@ -74,7 +74,7 @@ class Seen:
         if step[0] == "call":
             many = len(module.cells)
             if ("frame", seam) not in guards:
-                seen.extend(range(many, many + 1 + len(module.entries[entry][4])))
+                seen.extend(list(range(many, many + 1 + len(module.entries[entry][4]))))
             else:
                 call = self.call_rows.index((entry, row))
                 seen.extend([at for at in self.right_behind(call) if at >= many])

@@ -202,6 +202,43 @@ class Language(unittest.TestCase):
                         found = set(re.findall("[A-Za-z_]+", token.string)) & NO_WORDS
                         self.assertFalse(found, (path, found))
 
+    def test_ranges_and_their_kin_are_iterated_at_once(self):
+        takers = ("list", "tuple", "dict", "sorted", "sum", "any", "all", "enumerate", "zip", "min", "max")
+        for path, _, tree in trees():
+            above = {inner: node for node in ast.walk(tree) for inner in ast.iter_child_nodes(node)}
+            for node in ast.walk(tree):
+                if not isinstance(node, ast.Call):
+                    continue
+                name = node.func.id if isinstance(node.func, ast.Name) else getattr(node.func, "attr", "")
+                if name not in ("range", "zip", "enumerate", "reversed", "items", "keys", "values", "product", "combinations", "permutations"):
+                    continue
+                outer = above[node]
+                if isinstance(outer, (ast.For, ast.comprehension)):
+                    self.assertIs(outer.iter, node, (path, node.lineno))
+                elif isinstance(outer, ast.Assign):
+                    self.assertEqual(name, "range", (path, node.lineno))
+                else:
+                    self.assertIsInstance(outer, ast.Call, (path, node.lineno))
+                    self.assertIn(outer.func.id, takers + (("reversed",) if name == "range" else ()), (path, node.lineno))
+
+    def test_loops_do_not_change_what_they_go_over(self):
+        changing = ("append", "extend", "pop", "popleft", "insert", "remove", "clear", "update", "setdefault", "add")
+        for path, _, tree in trees():
+            for node in ast.walk(tree):
+                if not isinstance(node, ast.For):
+                    continue
+                told = node.iter.args[0] if isinstance(node.iter, ast.Call) and node.iter.args else node.iter
+                if isinstance(node.iter, ast.Call) and getattr(node.iter.func, "id", "") in ("list", "tuple", "sorted"):
+                    continue
+                for inner in [part for row in node.body for part in ast.walk(row)]:
+                    changed = []
+                    if isinstance(inner, ast.Call) and isinstance(inner.func, ast.Attribute) and inner.func.attr in changing:
+                        changed = [inner.func.value]
+                    if isinstance(inner, ast.Assign):
+                        changed = [target.value for target in inner.targets if isinstance(target, ast.Subscript)]
+                    for value in changed:
+                        self.assertNotEqual(ast.unparse(value), ast.unparse(told), (path, node.lineno))
+
     def test_no_default_is_changed(self):
         for path, _, tree in trees():
             for function in functions(tree):
