@@ -9,7 +9,7 @@ from nomoreseen.rooms import Rooms
 from nomoreseen.spots import need_spots, spots
 from nomoreseen.states import first_state
 from nomoreseen.ticks import done
-from nomoreseen.values import is_tuples
+from nomoreseen.values import is_tuple, tuples_throughout
 
 
 def calm_paper(book, module, bare, secrets, others):
@@ -21,7 +21,7 @@ def calm_paper(book, module, bare, secrets, others):
 def calm_holds(book, module, bare, secrets, others, value):
     """Whether this is a paper of two secrets (any value)."""
     rooms = _rooms(book, module, bare, secrets, others)
-    if not is_tuples(value) or not _is_paper(rooms.code, value):
+    if not tuples_throughout(value) or not _is_paper(rooms.code, value):
         return False
     return is_closed(rooms, value[0], value[1])
 
@@ -75,28 +75,24 @@ def _is_paper(code, value):
     if len(value) != 2 or not isinstance(value[0], tuple) or not isinstance(value[1], tuple):
         return False
     opens, waits = value
-    if not all([_is_row(told, 2) and _is_level(code, told[0]) and _are_bases(code, told[1]) for told in opens]):
+    if not all([is_tuple(told, 2) and _is_level(code, told[0]) and _are_bases(code, told[1]) for told in opens]):
         return False
     return all([
-        _is_row(told, 3) and _is_level(code, told[0]) and _are_frames(code, told[1]) and _are_bases(code, told[2])
+        is_tuple(told, 3) and _is_level(code, told[0]) and _are_frames(code, told[1]) and _are_bases(code, told[2])
         for told in waits
     ])
 
 
-def _is_row(value, many):
-    return isinstance(value, tuple) and len(value) == many
-
-
 def _is_level(code, value):
-    return _is_row(value, 2) and isinstance(value[1], bool) and _are_bases(code, value[0])
+    return is_tuple(value, 2) and isinstance(value[1], bool) and _are_bases(code, value[0])
 
 
 def _are_bases(code, value):
-    return _is_row(value, 2) and _is_base(code, value[0]) and _is_base(code, value[1])
+    return is_tuple(value, 2) and _is_base(code, value[0]) and _is_base(code, value[1])
 
 
 def _is_base(code, value):
-    if not _is_row(value, 3):
+    if not is_tuple(value, 3):
         return False
     cells, things, handed = value
     return are_words(code, cells, len(code.module.cells)) and are_made(code, things) and are_handed(code, handed)
@@ -104,14 +100,14 @@ def _is_base(code, value):
 
 def _are_frames(code, value):
     """Whether these are frames of calls of one out that are seen alike."""
-    if not _is_row(value, 2) or not _is_frame(code, value[0]) or not _is_frame(code, value[1]):
+    if not is_tuple(value, 2) or not _is_frame(code, value[0]) or not _is_frame(code, value[1]):
         return False
     one, other = value
     return one[1] == other[1] and _out_of(code, one[0][0]) == _out_of(code, other[0][0])
 
 
 def _is_frame(code, value):
-    if not _is_row(value, 2) or not is_own_frame(code, value[0]):
+    if not is_tuple(value, 2) or not is_own_frame(code, value[0]):
         return False
     own, laid = value
     return laid == () if len(own) == 2 else are_words(code, laid, call_size(code, own[0]))

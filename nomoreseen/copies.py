@@ -4,6 +4,9 @@ from nomoreseen.levels import Levels
 from nomoreseen.moves import lawful_backs, lawful_calls
 from nomoreseen.runs import answer
 
+# What was answered is kept for the next time, but no more than so much.
+MOST_KNOWN = 200000
+
 
 class Copies:
     """Two guests with the same doors; a base is a state without what waits."""
@@ -48,6 +51,8 @@ class Copies:
     def _answer(self, which, base, frame, move):
         key = (which, base, frame, move)
         if key not in self.known:
+            if len(self.known) >= MOST_KNOWN:
+                self.known = {}
             waiting = () if frame is None else (frame,)
             self.known[key] = answer(self.modules[which], base + (waiting,), move)
         return self.known[key]

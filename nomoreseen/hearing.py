@@ -6,7 +6,7 @@ from nomoreseen.errors import InvalidLink, InvalidPlay, InvalidSize, InvalidStat
 from nomoreseen.rests import lawful_move, need_moves
 from nomoreseen.states import need_state
 from nomoreseen.turns import Rest, need_all_secrets, need_fallen, need_program
-from nomoreseen.values import is_below, is_row, is_sequence, is_tuples
+from nomoreseen.values import is_below, is_row, is_sequence, is_tuple, tuples_throughout
 
 MOST_PAIRS = 3000
 
@@ -28,7 +28,7 @@ def rest_pairs(program, other, fallen, secrets, others):
 def rest_pairs_hold(program, other, fallen, secrets, others, value):
     """Whether these are pairs of states, all answered alike, from which just these come (any value)."""
     rests, first = _two_rests(program, other, fallen, secrets, others)
-    if not is_tuples(value) or not all([_is_pair(rests, pair) for pair in value]):
+    if not tuples_throughout(value) or not all([_is_pair(rests, pair) for pair in value]):
         return False
     known = {pair: True for pair in value}
     return first in known and all([_leads_to(rests, pair, known) for pair in known])
@@ -192,15 +192,11 @@ def _leads_to(rests, pair, known):
 
 def _is_pair(rests, value):
     """Whether this is a pair of states, one of each (any tuples)."""
-    return _is_row(value, 2) and _is_state(rests[0], value[0]) and _is_state(rests[1], value[1])
-
-
-def _is_row(value, many):
-    return isinstance(value, tuple) and len(value) == many
+    return is_tuple(value, 2) and _is_state(rests[0], value[0]) and _is_state(rests[1], value[1])
 
 
 def _is_state(rest, value):
-    if not _is_row(value, 3) or not isinstance(value[2], bool) or not _is_row(value[1], len(rest.lost)):
+    if not is_tuple(value, 3) or not isinstance(value[2], bool) or not is_tuple(value[1], len(rest.lost)):
         return False
     pile, states, begun = value
     if not _is_way(rest, pile) or begun != rest.lost[rest.holder(pile)] or (pile and not begun):

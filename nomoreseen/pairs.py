@@ -10,7 +10,7 @@ def need_pair(book, one, other, secrets, others):
     need_guest(book, one)
     need_guest(book, other)
     need_same_doors(one, other)
-    return (_secrets_of(one, secrets, 0), _secrets_of(other, others, 1))
+    return (secrets_of(one, secrets, 0), secrets_of(other, others, 1))
 
 
 def need_same_doors(one, other):
@@ -25,7 +25,8 @@ def _entry_doors(module):
     return [(entry[0], entry[2], entry[3]) for entry in module.entries]
 
 
-def _secrets_of(module, value, at):
+def secrets_of(module, value, at):
+    """The row of numbers of the secret cells; a wrong one is told by this number."""
     try:
         return need_secrets(module, value)
     except InvalidSecrets:

@@ -5,7 +5,7 @@ from nomoreseen.errors import InvalidState
 from nomoreseen.levels import is_closed
 from nomoreseen.pairs import need_pair
 from nomoreseen.states import first_state, is_frame, need_state
-from nomoreseen.values import is_tuples
+from nomoreseen.values import is_tuple, tuples_throughout
 
 
 def alike_paper(book, one, other, secrets, others):
@@ -22,7 +22,7 @@ def deep_play(book, one, other, secrets, others):
 def alike_holds(book, one, other, secrets, others, value):
     """Whether this is a paper of two guests with secrets (any value)."""
     copies = _copies(book, one, other, secrets, others)
-    if not is_tuples(value) or not _is_paper(one, other, value):
+    if not tuples_throughout(value) or not _is_paper(one, other, value):
         return False
     return is_closed(copies, value[0], value[1])
 
@@ -37,11 +37,11 @@ def _is_paper(one, other, value):
     if len(value) != 2 or not isinstance(value[0], tuple) or not isinstance(value[1], tuple):
         return False
     opens, waits = value
-    if not all([_is_row(told, 2) and _is_level(one, other, told[0]) for told in opens]):
+    if not all([is_tuple(told, 2) and _is_level(one, other, told[0]) for told in opens]):
         return False
     if not all([_are_bases(one, other, told[1]) for told in opens]):
         return False
-    if not all([_is_row(told, 3) and _is_level(one, other, told[0]) for told in waits]):
+    if not all([is_tuple(told, 3) and _is_level(one, other, told[0]) for told in waits]):
         return False
     later = {}
     for level, bases in opens:
@@ -49,23 +49,19 @@ def _is_paper(one, other, value):
     return all([_is_wait(one, other, told, later) for told in waits])
 
 
-def _is_row(value, many):
-    return isinstance(value, tuple) and len(value) == many
-
-
 def _is_level(one, other, value):
-    return _is_row(value, 2) and isinstance(value[1], bool) and _are_bases(one, other, value[0])
+    return is_tuple(value, 2) and isinstance(value[1], bool) and _are_bases(one, other, value[0])
 
 
 def _are_bases(one, other, value):
     """Whether these are bases of both, who have handed out and got the same."""
-    if not _is_row(value, 2) or not _is_base(one, value[0]) or not _is_base(other, value[1]):
+    if not is_tuple(value, 2) or not _is_base(one, value[0]) or not _is_base(other, value[1]):
         return False
     return _handed_classes(value[0]) == _handed_classes(value[1]) and value[0][3] == value[1][3]
 
 
 def _is_base(module, value):
-    if not _is_row(value, 4):
+    if not is_tuple(value, 4):
         return False
     try:
         need_state(module, value + ((),))
@@ -82,7 +78,7 @@ def _handed_classes(base):
 def _is_wait(one, other, wait, later):
     """Whether the frames are such at the bases, and at all bases of the level above them."""
     _, frames, bases = wait
-    if not _are_bases(one, other, bases) or not _is_row(frames, 2):
+    if not _are_bases(one, other, bases) or not is_tuple(frames, 2):
         return False
     if not all([_are_frames(one, other, frames, at) for at in [bases] + later.get((bases, True), [])]):
         return False

@@ -5,7 +5,7 @@ from nomoreseen.compiler import Code
 from nomoreseen.errors import InvalidBook, InvalidCode, InvalidModule
 from nomoreseen.modules import Book, Module
 from nomoreseen.spots import spots
-from nomoreseen.values import is_below
+from nomoreseen.values import is_below, is_tuple
 
 
 def read_code(value):
@@ -41,7 +41,7 @@ def _is_same(one, other):
 
 def _has_form(value):
     """Whether all parts have the lengths that are asked for before they are looked at."""
-    if not _is_tuple(value, 6) or not all([isinstance(part, tuple) for part in value]):
+    if not is_tuple(value, 6) or not all([isinstance(part, tuple) for part in value]):
         return False
     book_told, head, doors, blocks, behind, resume = value
     if len(book_told) != 5 or len(head) != 7 or not isinstance(head[6], tuple):
@@ -49,15 +49,11 @@ def _has_form(value):
     many = len(head[6])
     if len(doors) != many or len(blocks) != many or not _are_rows(resume):
         return False
-    if not all([_is_tuple(entry, 6) for entry in head[6]]):
+    if not all([is_tuple(entry, 6) for entry in head[6]]):
         return False
     if not all([_are_rows(rows) for rows in doors + behind]):
         return False
     return all([isinstance(rows, tuple) and all([_are_rows(block) for block in rows]) for rows in blocks])
-
-
-def _is_tuple(value, many):
-    return isinstance(value, tuple) and len(value) == many
 
 
 def _are_rows(value):

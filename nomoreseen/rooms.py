@@ -3,6 +3,8 @@
 from nomoreseen.ticks import done
 
 WAITS = ((0, ()),)
+# What was seen is kept for the next time, but no more than so much.
+MOST_KNOWN = 200000
 
 
 class Rooms:
@@ -64,6 +66,8 @@ class Rooms:
             laid, deed = (move[2],) if move[2] else (), move[:2] + ((),)
         key = (base, own, laid, deed)
         if key not in self.known:
+            if len(self.known) >= MOST_KNOWN:
+                self.known = {}
             sight, _, behind = done(self.code, base + (own, laid), deed)
             self.known[key] = (sight, behind)
         return self.known[key]

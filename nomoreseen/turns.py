@@ -2,8 +2,9 @@
 
 from nomoreseen.errors import InvalidLink, InvalidLots, InvalidSecrets
 from nomoreseen.linker import Program
+from nomoreseen.pairs import secrets_of
 from nomoreseen.runs import answer
-from nomoreseen.states import first_state, need_secrets
+from nomoreseen.states import first_state
 from nomoreseen.values import is_row, is_sequence, places_of
 
 
@@ -118,12 +119,5 @@ def need_all_secrets(program, fallen, value):
         raise InvalidSecrets(-1)
     secrets = []
     for at, module in enumerate(program.modules):
-        secrets.append(None if module.name in fallen else _secrets_of(module, at, value[at]))
+        secrets.append(None if module.name in fallen else secrets_of(module, value[at], at))
     return secrets
-
-
-def _secrets_of(module, at, value):
-    try:
-        return need_secrets(module, value)
-    except InvalidSecrets:
-        raise InvalidSecrets(at)

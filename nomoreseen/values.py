@@ -29,6 +29,11 @@ def is_row(value, many):
     return is_sequence(value) and len(value) == many
 
 
+def is_tuple(value, many):
+    """Whether this is a tuple of so many things."""
+    return isinstance(value, tuple) and len(value) == many
+
+
 def is_name(value):
     """Whether this is a string of 1 to 8 letters a to z."""
     if not isinstance(value, str) or not 1 <= len(value) <= 8:
@@ -43,7 +48,7 @@ def frozen(value):
     return value
 
 
-def is_tuples(value):
+def tuples_throughout(value):
     """Whether this is a tuple, with tuples in the place of all lists within."""
     return isinstance(value, tuple) and not has_lists(value)
 
