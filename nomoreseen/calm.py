@@ -30,7 +30,7 @@ def deep_leak(book, module, bare, secrets, others):
     """Some script by whose last deed alone the sights of two secrets part, None if there is none."""
     rooms = _rooms(book, module, bare, secrets, others)
     moves = explored(rooms).way()
-    return None if moves is None else _script(rooms, moves)
+    return None if moves is None else script_of(rooms, moves)
 
 
 def pile_steps(book, module, bare, secrets, others):
@@ -55,7 +55,7 @@ def _rooms(book, module, bare, secrets, others):
     return Rooms(code, cells, other_cells)
 
 
-def _script(rooms, moves):
+def script_of(rooms, moves):
     """The deeds of these moves, with the changes of the open frames that they ask for."""
     room = rooms.first()[0] + ((), ())
     script = []

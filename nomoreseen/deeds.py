@@ -75,33 +75,43 @@ def call_size(code, call):
     return frame_size(code.module, code.call_rows[call][0])
 
 
-def deed_of(code, value):
-    """The value as a deed in tuples; None if it is none of this code."""
-    if not is_sequence(value) or len(value) < 3 or not _are_changes(code, value[-1]):
+def deed_of(book, module, value):
+    """The value as a deed in tuples; None if it is none of this guest's code."""
+    if not is_sequence(value) or len(value) < 3 or not _are_changes(book, value[-1]):
         return None
-    if not is_below(value[-2], code.book.word):
+    if not is_below(value[-2], book.word):
         return None
     is_back = len(value) == 3 and value[0] == "back"
-    is_call = len(value) == 4 and value[0] == "call" and _is_door(code, value[1])
+    is_call = len(value) == 4 and value[0] == "call" and _is_door(module, value[1])
     return frozen(value) if is_back or is_call else None
 
 
-def _is_door(code, name):
-    return isinstance(name, str) and name in code.module.entry_numbers
+def _is_door(module, name):
+    return isinstance(name, str) and name in module.entry_numbers
 
 
-def _are_changes(code, value):
+def _are_changes(book, value):
     if not is_sequence(value):
         return False
     return all([
         is_row(change, 3) and is_number(change[0]) and is_number(change[1])
-        and is_below(change[2], code.book.word) for change in value
+        and is_below(change[2], book.word) for change in value
     ])
 
 
-def need_deed(code, value):
+def need_deed(book, module, value):
     """The deed in tuples."""
-    deed = deed_of(code, value)
+    deed = deed_of(book, module, value)
     if deed is None:
         raise InvalidScript(0)
     return deed
+
+
+def need_script(book, module, value):
+    """The script in tuples (any value); not whether a deed stands behind a never."""
+    if not is_sequence(value):
+        raise InvalidScript(-1)
+    deeds = [deed_of(book, module, deed) for deed in value]
+    if None in deeds:
+        raise InvalidScript(deeds.index(None))
+    return tuple(deeds)

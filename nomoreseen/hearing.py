@@ -140,13 +140,18 @@ def _fallen_numbers(rest):
 
 
 def _two_rests(program, other, fallen, secrets, others):
+    need_one_frame(program, other)
+    rest, state = _one_rest(program, fallen, secrets)
+    rest_other, state_other = _one_rest(other, fallen, others)
+    return ((rest, rest_other), (state, state_other))
+
+
+def need_one_frame(program, other):
+    """Raises the error of what are no two programs of one frame."""
     need_program(program)
     need_program(other)
     if _frame_of(program) != _frame_of(other):
         raise InvalidLink(-1)
-    rest, state = _one_rest(program, fallen, secrets)
-    rest_other, state_other = _one_rest(other, fallen, others)
-    return ((rest, rest_other), (state, state_other))
 
 
 def _frame_of(program):

@@ -26,11 +26,11 @@ class Live:
 
     def deed(self, deed):
         """What is seen of a deed, behind which all stands then."""
-        told = need_deed(self._course.code, deed)
+        told = need_deed(self._book, self._module, deed)
         if self._course.room is None:
             raise Refused(0)
         self._done.append(told)
-        return self._course.takes_deed(told)
+        return self._course.does(told)
 
     def deeds(self):
         """The script that was done."""
@@ -38,11 +38,11 @@ class Live:
 
     def play(self):
         """The lawful moves so far, in, out, in, out, .."""
-        return tuple(self._course.moves)
+        return tuple(self._course.lawful.moves)
 
     def state(self):
         """The plain state behind the play, None behind a never."""
-        return self._course.now
+        return self._course.lawful.now
 
     def room_behind(self):
         """The room, None behind a never."""
@@ -64,7 +64,7 @@ class Live:
         """Puts another guest in the place of this one."""
         told, moves = self._compared(module, secrets)
         if moves is not None:
-            raise Refused(len(self._course.moves) // 2)
+            raise Refused(len(self._course.lawful.moves) // 2)
         self._module = module
         self._secrets = told
         self._course = self._course_of(self._done)
@@ -72,7 +72,7 @@ class Live:
     def _course_of(self, deeds):
         course = Course(self._book, self._module, self._secrets)
         for deed in deeds:
-            course.takes_deed(deed)
+            course.does(deed)
         return course
 
     def _compared(self, module, secrets):
@@ -82,8 +82,8 @@ class Live:
         told = need_secrets(module, secrets)
         if self._course.room is None:
             raise Refused(-1)
-        other = _state_behind(module, told, self._course.moves)
-        return (told, _parting(self._book, self._module, module, self._course.now, other))
+        other = _state_behind(module, told, self._course.lawful.moves)
+        return (told, _parting(self._book, self._module, module, self._course.lawful.now, other))
 
 
 def _state_behind(module, secrets, play):

@@ -2,15 +2,14 @@
 
 from nomoreseen.compiler import need_code
 from nomoreseen.deeds import need_deed, need_room
-from nomoreseen.states import first_state, need_secrets
-from nomoreseen.ticks import done
+from nomoreseen.states import need_secrets
+from nomoreseen.ticks import done, room_at_first
 
 
 def first_room(code, secrets):
     """The room of this code ahead of all deeds."""
     need_code(code)
-    cells = first_state(code.module, need_secrets(code.module, secrets))[0]
-    return (cells, (), (), (), ())
+    return room_at_first(code, need_secrets(code.module, secrets))
 
 
 def entered(code, room, deed):
@@ -23,4 +22,4 @@ def ticked(code, room, deed):
     """(sight, ticks, room behind) of a deed; None for the room behind never."""
     need_code(code)
     told = need_room(code, room)
-    return done(code, told, need_deed(code, deed))
+    return done(code, told, need_deed(code.book, code.module, deed))

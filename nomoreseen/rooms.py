@@ -12,12 +12,13 @@ class Rooms:
 
     A frame is (what a call lays on the own pile, the frame that it lays open or ()).
     A move is ("call", entry, word, whether something waits), or ("back", word, the words found in an open frame).
+    known is what was seen of this code already, if it was looked at before.
     """
 
-    def __init__(self, code, cells, other_cells):
+    def __init__(self, code, cells, other_cells, known=None):
         self.code = code
         self.first_pair = ((cells, (), ()), (other_cells, (), ()))
-        self.known = {}
+        self.known = {} if known is None else known
         words = range(code.book.word)
         names = [entry[0] for entry in code.module.entries]
         self.calls_amid = [("call", name, word, True) for name in names for word in words]
@@ -67,7 +68,7 @@ class Rooms:
         key = (base, own, laid, deed)
         if key not in self.known:
             if len(self.known) >= MOST_KNOWN:
-                self.known = {}
+                self.known.clear()
             sight, _, behind = done(self.code, base + (own, laid), deed)
             self.known[key] = (sight, behind)
         return self.known[key]

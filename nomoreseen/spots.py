@@ -92,9 +92,14 @@ def need_spots(book, module, value):
     return tuple([spot for spot in every if spot in met])
 
 
+def need_tricks(value):
+    """Raises the error of what is no sequence of tricks (any value)."""
+    if not is_sequence(value) or not all([trick in TRICKS for trick in value]):
+        raise InvalidSize("tricks")
+
+
 def spots_of(book, module, tricks):
     """The spots of a guest whose trick is among some (any value)."""
     every = spots(book, module)
-    if not is_sequence(tricks) or not all([trick in TRICKS for trick in tricks]):
-        raise InvalidSize("tricks")
+    need_tricks(tricks)
     return tuple([spot for spot in every if TRICK_OF[spot[0]] in tricks])

@@ -1,6 +1,9 @@
 """Runs of the machine, row by row, of rooms and deeds that are told rightly."""
 
 from nomoreseen.compiler import frame_size
+from nomoreseen.states import first_state
+
+NEVER_SEEN = (("never",),)
 
 
 class Run:
@@ -90,25 +93,34 @@ class Run:
         return others[word - 1 - len(self.handed)]
 
 
+def room_at_first(code, secrets):
+    """The room ahead of all deeds."""
+    return (first_state(code.module, secrets)[0], (), (), (), ())
+
+
 def done(code, room, deed):
     """(sight, ticks, room behind) of a deed; None for the room behind never."""
     run = Run(code, room, deed[-2])
-    for frame, place, word in deed[-1]:
-        _change(run.laid, frame, place, word)
+    if deed[-1]:
+        run.laid = list(changed_frames(room[4], deed[-1]))
     if deed[0] == "call":
         run.comes_in(code.module.entry_numbers[deed[1]])
     else:
         run.comes_back()
     if run.out == ("never",):
-        return ((run.out,), run.ticks, None)
+        return (NEVER_SEEN, run.ticks, None)
     laid = tuple(run.laid)
     sight = (run.out, run.registers[1], run.registers[2], run.flag, laid)
     return (sight, run.ticks, (tuple(run.cells), tuple(run.things), tuple(run.handed), tuple(run.own), laid))
 
 
-def _change(laid, frame, place, word):
-    if frame < len(laid) and place < len(laid[frame]):
-        laid[frame] = laid[frame][:place] + (word,) + laid[frame][place + 1:]
+def changed_frames(laid, changes):
+    """The open frames behind changes done one behind another; what isn't there isn't changed."""
+    frames = [list(frame) for frame in laid]
+    for frame, place, word in changes:
+        if frame < len(frames) and place < len(frames[frame]):
+            frames[frame][place] = word
+    return tuple([tuple(frame) for frame in frames])
 
 
 def _const(run, row):

@@ -1,5 +1,6 @@
 """Random books, modules and plays for the tests; the same ones for the same seed."""
 
+from nomoreseen.errors import InvalidModule
 from nomoreseen.modules import Book, Module
 from nomoreseen.plain import answered, begin, fits_move
 
@@ -135,3 +136,24 @@ def follows(book, module, secrets, play):
         if told != out:
             return False
     return True
+
+
+def mutant(rng, module):
+    """The module with one number in one of its rows told otherwise, or two rows exchanged; itself, if none can be."""
+    for _ in range(20):
+        entries = [list(entry[:5]) + [list(entry[5])] for entry in module.entries]
+        rows = rng.choice(entries)[5]
+        at, other = rng.randrange(len(rows)), rng.randrange(len(rows))
+        if rows[at][0] in ("set", "add", "if") and rng.random() < 0.6:
+            rows[at] = rows[at][:2] + (rng.randrange(3),) + rows[at][3:]
+        elif rows[at][0] in ("if", "go", "same"):
+            rows[at] = rows[at][:-1] + (rng.randrange(len(rows)),)
+        else:
+            rows[at], rows[other] = rows[other], rows[at]
+        try:
+            made = Module(*module.told[:6], entries)
+        except InvalidModule:
+            continue
+        if made.told != module.told:
+            return made
+    return module

@@ -1,5 +1,6 @@
 """Random guards and scripts for the tests; the same ones for the same seed."""
 
+from nomoreseen.machine import entered, first_room
 from nomoreseen.spots import spots
 
 
@@ -19,3 +20,12 @@ def random_deed(rng, code, room):
     if rng.random() < (0.7 if room[3] else 0.1):
         return ("back", word, tuple(changes))
     return ("call", rng.choice(code.module.entries)[0], word, tuple(changes))
+
+
+def random_script(rng, code, secrets, most):
+    """Some script of at most so many deeds, none of them behind a never."""
+    room, script = first_room(code, secrets), []
+    while room is not None and len(script) < most:
+        script.append(random_deed(rng, code, room))
+        _, room = entered(code, room, script[-1])
+    return tuple(script)

@@ -4,14 +4,15 @@ import inspect
 import random
 import unittest
 
-from nomoreseen import around, books, calm, compiler, crossings, edges, errors, handles, hearing, linked, linker, live, machine, modules
-from nomoreseen import piles, plain, plays, readback, rests, seen, spots, texts, webs
+from nomoreseen import around, back, books, calm, clock, compiler, crossings, desk, edges, errors, falls, frames, handles, hearing, linked
+from nomoreseen import linker, live, machine, modules, piles, plain, plays, readback, rests, secrets as secrets_file, seen, sights, spared, spots
+from nomoreseen import strangers, strikes, table, texts, webs, wide
 from nomoreseen.modules import Book
 from nomoreseen.texts import module_text, read_module
 from tests.anything import values
 from tests.makers import random_book, random_doors, random_guest, random_play
 from tests.programs import random_fallen, random_program, random_secrets
-from tests.scripts import random_deed, random_guards
+from tests.scripts import random_deed, random_guards, random_script
 
 INTERFACE = {
     crossings: {
@@ -77,6 +78,43 @@ INTERFACE = {
         "least_hearing": ["program", "secrets", "others"], "greatest_deaf": ["program", "secrets", "others"],
     },
     live: {"room_of": ["module", "state", "known"], "Live": ["book", "module", "secrets"]},
+    sights: {
+        "sights": ["code", "secrets", "script"], "parting_script": ["one", "other", "secrets", "others", "most"],
+        "due_sights": ["book", "module", "secrets", "script"], "play_of": ["book", "module", "secrets", "script"],
+    },
+    spared: {
+        "spare_round": ["book", "module", "guards"], "spared": ["book", "module", "guards"],
+        "careless": ["book", "module", "guards", "kind"], "edge_pair": ["book", "kind"],
+    },
+    strangers: {
+        "Stranger": ["cells", "rows"], "stranger_run": ["code", "secrets", "stranger", "most"],
+        "parted_by": ["one", "other", "secrets", "stranger", "most"], "script_stranger": ["code", "script"],
+        "script_text": ["code", "script"], "read_script": ["code", "text"],
+    },
+    table: {"quiet": ["book", "tricks"], "need_holds": ["book", "tricks", "value"], "least_quiet": ["books"]},
+    wide: {
+        "wide_sights": ["book", "module", "guards", "secrets", "script"], "wide_rows": ["book", "module", "guards", "secrets", "script"],
+        "honest_script": ["book", "module", "guards", "secrets", "moves"],
+    },
+    back: {"around_for": ["book", "one", "other", "secrets", "others", "script"]},
+    frames: {"piled_sights": ["book", "module", "guards", "kept", "room", "secrets", "script"]},
+    falls: {"fallen_sights": ["program", "fallen", "secrets", "bare", "script"]},
+    secrets_file: {
+        "classes": ["book", "module"], "is_enough": ["book", "module", "guarded"], "least_leaks": ["book", "module"],
+        "least_guards": ["book", "module"], "leaks_hold": ["book", "module", "value"], "guards_hold": ["book", "module", "value"],
+        "both_hold": ["book", "module", "leaks", "guards"],
+    },
+    clock: {
+        "ticks_along": ["book", "module", "secrets", "moves"], "padding": ["book", "module", "secrets", "moves", "so_far"],
+        "most_padding": ["book", "module", "so_far"],
+    },
+    desk: {"Desk": []},
+    strikes: {
+        "fallen_parting": ["program", "other", "fallen", "secrets", "others", "bare"],
+        "fallen_pairs": ["program", "other", "fallen", "secrets", "others", "bare"],
+        "fallen_pairs_hold": ["program", "other", "fallen", "secrets", "others", "bare", "value"], "drawing": ["guard"],
+        "drawing_holds": ["guard", "value"],
+    },
 }
 METHODS = {
     modules.Module: {
@@ -89,17 +127,24 @@ METHODS = {
         "state": [], "room_behind": [], "deeds": [], "play": [], "deed": ["deed"], "back_to": ["many"],
         "parting_moves": ["module", "secrets"], "exchange": ["module", "secrets"],
     },
+    desk.Desk: {"say": ["command"]},
 }
-SLOW = ("needs", "need_play", "list_room", "LeastLists", "calm_paper", "deep_leak", "pile_steps", "calm_holds")
-PAPERS = ("bounds_hold", "are_crossings", "alike_holds", "read_code", "calm_holds", "rest_pairs_hold")
+SLOW = ("needs", "need_play", "list_room", "LeastLists", "calm_paper", "deep_leak", "pile_steps", "calm_holds", "spared", "careless",
+        "parting_script", "classes", "is_enough", "least_leaks", "least_guards", "leaks_hold", "guards_hold", "both_hold", "most_padding", "padding",
+        "fallen_parting", "fallen_pairs", "fallen_pairs_hold", "drawing_holds")
+LEAKING = ("is_enough", "least_leaks", "least_guards", "leaks_hold", "guards_hold", "both_hold")
+PAPERS = ("bounds_hold", "are_crossings", "alike_holds", "read_code", "calm_holds", "rest_pairs_hold", "need_holds", "leaks_hold", "guards_hold",
+          "both_hold", "fallen_pairs_hold", "drawing_holds")
 
 
 def told(value):
     """A result in a form that can be compared, whatever it is."""
     if isinstance(value, (list, tuple)):
         return type(value).__name__ + repr([told(part) for part in value])
-    if isinstance(value, (int, str, dict)) or value is None:
+    if isinstance(value, (int, str)) or value is None:
         return repr(value)
+    if isinstance(value, dict):
+        return repr([(name, told(value[name])) for name in value])
     if hasattr(value, "told"):
         return repr(value.told)
     if isinstance(value, handles.LeastLists):
@@ -146,12 +191,64 @@ def special_parts(rng, book, guest, secrets, play):
     for module in (rests, hearing):
         special.update({name: rest for name in INTERFACE[module]})
     special["Seen"] = {"facts": edges.Facts(book, guest, code.guards)}
+    special.update(parts_of_scripts(rng, code, secrets, play))
+    special.update(parts_of_programs(rng, rest))
+    lots = leaks_of(book, guest)
+    special.update({name: {"guarded": code.guards, "moves": play[::2], "so_far": rng.random() < 0.5, **lots} for name in (*INTERFACE[secrets_file], *INTERFACE[clock])})
+    special["leaks_hold"], special["guards_hold"] = {"value": lots["leaks"]}, {"value": lots["guards"]}
     try:
         special["calm_holds"] = {**bare, "value": calm.calm_paper(book, guest, secrets=secrets, **bare)}
         special["alike_holds"] = {**pair, "value": piles.alike_paper(book, **pair)}
     except errors.InvalidSize:
         special["calm_holds"], special["alike_holds"] = bare, pair
     return special
+
+
+def parts_of_scripts(rng, code, secrets, play):
+    """What functions of scripts and strangers are given."""
+    book, guest = code.book, code.module
+    script = random_script(rng, code, secrets, 4)
+    made = strangers.script_stranger(code, script)
+    told = {"script": script, "guards": code.guards, "code": code, "secrets": secrets, "stranger": made, "most": 50, "moves": play[::2],
+            "kept": seen.kept_names(book, guest, code.guards), "room": 9, "kind": rng.choice(spared.EDGES)}
+    names = [name for file in (sights, spared, strangers, wide, frames) for name in INTERFACE[file]]
+    special = {name: told for name in names}
+    special["Stranger"] = {"cells": 2, "rows": made.rows}
+    special["parting_script"] = {"one": code, "other": code, "others": rng.choice(guest.all_secrets()), "most": 1}
+    special["parted_by"] = {**told, "one": code, "other": code, "secrets": (secrets, rng.choice(guest.all_secrets()))}
+    special["read_script"] = {"code": code, "text": strangers.script_text(code, script)}
+    special["around_for"] = {"one": guest, "other": guest, "others": rng.choice(guest.all_secrets()), "script": script}
+    tricks = tuple(trick for trick in spots.TRICKS if rng.random() < 0.7)
+    special["quiet"] = special["need_holds"] = {"tricks": tricks, "value": table.quiet(book, tricks)[1]}
+    special["least_quiet"] = {"books": (book, book)}
+    return special
+
+
+def parts_of_programs(rng, rest):
+    """What functions of fallen modules are given."""
+    program = rest["program"]
+    bare = tuple(name for name in ("who", "backof", "turn") if rng.random() < 0.5)
+    script = [(rng.choice(rest["fallen"]), rng.choice(("call", "back")), rng.randrange(len(program.links)), 0)]
+    if program.main[0] not in rest["fallen"]:
+        first = falls.fallen_sights(program, rest["fallen"], rest["secrets"], bare, ())
+        script = script if first[0][0] in ("call", "back") else []
+    told = {**rest, "bare": bare, "script": script, "value": ()}
+    special = {name: told for name in (*INTERFACE[falls], *INTERFACE[strikes])}
+    special["drawing"] = {"guard": "who"}
+    special["drawing_holds"] = {"guard": "turn", "value": strikes.drawing("turn")}
+    return special
+
+
+def leaks_of(book, guest):
+    try:
+        return {"leaks": secrets_file.least_leaks(book, guest), "guards": secrets_file.least_guards(book, guest)} if rarely(guest) else {"leaks": (), "guards": ()}
+    except errors.InvalidSize:
+        return {"leaks": (), "guards": ()}
+
+
+def rarely(guest):
+    """Whether frames of the guest are small enough for all words of an open one."""
+    return all(len(guest.entries[entry][4]) < 3 for entry, _ in guest.calls())
 
 
 class Interface(unittest.TestCase):
@@ -205,7 +302,9 @@ class Calls(unittest.TestCase):
                 parts = {at: special.get(name, {}).get(at, right.get(at)) for at in names}
                 if name == "Module":
                     parts = dict(zip(names, guest.told))
-                if rng.random() < 0.3 and name not in ("Seen", "has_turn", "rest_moves", "rest_answered"):
+                if name in LEAKING and not rarely(guest):
+                    continue
+                if rng.random() < 0.3 and names and name not in ("Seen", "has_turn", "rest_moves", "rest_answered"):
                     parts[rng.choice(names)] = rng.choice(values())
                 first, listed, named, unchanged = self.check(call, parts)
                 self.assertTrue(unchanged)

@@ -134,6 +134,8 @@ class Language(unittest.TestCase):
                     local.add(node.arg)
                 if isinstance(node, ast.Name) and not isinstance(node.ctx, ast.Load):
                     local.add(node.id)
+                if isinstance(node, ast.ExceptHandler) and node.name:
+                    local.add(node.name)
             self.assertFalse(local & (barred | ALL_BUILTINS | NO_WORDS), (path, local & (barred | ALL_BUILTINS)))
             known = local | bound | imports | BUILTINS
             used = {node.id for node in ast.walk(tree) if isinstance(node, ast.Name)}
@@ -189,7 +191,8 @@ class Language(unittest.TestCase):
                 if isinstance(node, ast.Raise):
                     self.assertIn(node.exc.func.id, errors, path)
                 if isinstance(node, ast.ExceptHandler):
-                    self.assertIn(node.type.id, errors, path)
+                    told = node.type.elts if isinstance(node.type, ast.Tuple) else [node.type]
+                    self.assertLessEqual({name.id for name in told}, errors, path)
 
     def test_strings(self):
         for path in FILES:
