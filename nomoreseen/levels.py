@@ -13,6 +13,48 @@ from collections import deque
 from nomoreseen.errors import InvalidSize
 
 MOST_OPENS = 4000
+# What came of moves is kept for the next time, but no more than so much.
+MOST_KNOWN = 300000
+
+
+class Outcomes:
+    """What comes of all moves at bases: each outcome once, with the first move of which it comes.
+
+    Behind an unlike one nothing more is looked at.
+    """
+
+    def __init__(self, copies):
+        self.copies = copies
+        self.known = {}
+        self.many = 0
+
+    def of_calls(self, bases, waits):
+        """(outcome, move) of moves that come in at a level."""
+        key = (bases, waits)
+        if key not in self.known:
+            self._keep(key, self.copies.calls_at(bases, waits), bases, None)
+        return self.known[key]
+
+    def of_backs(self, frames, bases):
+        """(outcome, move) of moves into frames."""
+        key = (bases, self.copies.asked_of(frames))
+        if key not in self.known:
+            self._keep(key, self.copies.backs_at(frames, bases), bases, frames)
+        return self.known[key]
+
+    def _keep(self, key, moves, bases, frames):
+        met = {}
+        for move in moves:
+            outcome = self.copies.outcome(bases, frames, move)
+            if outcome not in met:
+                met[outcome] = move
+            if outcome[0] == "unlike":
+                break
+        if self.many > MOST_KNOWN:
+            self.known.clear()
+            self.many = 0
+        self.many += len(met)
+        self.known[key] = list(met.items())
 
 
 class Levels:
@@ -25,6 +67,7 @@ class Levels:
 
     def __init__(self, copies):
         self.copies = copies
+        self.outcomes = Outcomes(copies)
         self.opens = {}
         self.waits = {}
         self.above = {}
@@ -74,8 +117,8 @@ class Levels:
     def _look_at_open(self, told):
         level, bases = told
         self.looked_opens.setdefault(level, []).append(told)
-        for move in self.copies.calls_at(bases, level[1]):
-            self._goes(level, bases, None, (("here", told), ("move", move)))
+        for outcome, move in self.outcomes.of_calls(bases, level[1]):
+            self._goes(level, outcome, (("here", told), ("move", move)))
         for wait in self.looked_waits.get(level, []):
             self._come_back(wait, told)
 
@@ -91,13 +134,13 @@ class Levels:
 
     def _come_back(self, wait, told):
         """All backs into a wait at an open of the level above it."""
-        for move in self.copies.backs_at(wait[1], told[1]):
-            self._goes(wait[0], told[1], wait[1], (("wait", wait), ("here", told), ("move", move)))
+        for outcome, move in self.outcomes.of_backs(wait[1], told[1]):
+            self._goes(wait[0], outcome, (("wait", wait), ("here", told), ("move", move)))
 
-    def _goes(self, level, bases, frames, parts):
+    def _goes(self, level, outcome, parts):
         if self.parting is not None:
             return
-        word, frames_behind, behind = self.copies.outcome(bases, frames, parts[-1][1])
+        word, frames_behind, behind = outcome
         if word == "unlike":
             self.parting = self._from_beginning(level) + parts
         elif word == "back":
@@ -140,13 +183,14 @@ def is_closed(copies, opens, waits):
     first = copies.first()
     known_opens = {told: True for told in opens}
     known_waits = {told: True for told in waits}
+    outcomes = Outcomes(copies)
     if ((first, False), first) not in known_opens:
         return False
     later = {}
     for level, bases in known_opens:
         later.setdefault(level, []).append(bases)
-        for move in copies.calls_at(bases, level[1]):
-            if not _is_led(copies.outcome(bases, None, move), level, known_opens, known_waits):
+        for outcome, _ in outcomes.of_calls(bases, level[1]):
+            if not _is_led(outcome, level, known_opens, known_waits):
                 return False
     asked = {}
     for level, frames, begun in known_waits:
@@ -159,8 +203,8 @@ def is_closed(copies, opens, waits):
             continue
         asked[told] = True
         for bases in later[above]:
-            for move in copies.backs_at(frames, bases):
-                if not _is_led(copies.outcome(bases, frames, move), level, known_opens, known_waits):
+            for outcome, _ in outcomes.of_backs(frames, bases):
+                if not _is_led(outcome, level, known_opens, known_waits):
                     return False
     return True
 

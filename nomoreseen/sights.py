@@ -11,7 +11,7 @@ from nomoreseen.ticks import done, room_at_first
 from nomoreseen.values import is_below
 from nomoreseen.watch import seen_along
 
-MOST_ROOMS = 10000
+MOST_ROOMS = 4000
 MOST_DEEDS = 6
 
 

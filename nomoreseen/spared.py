@@ -14,8 +14,10 @@ EDGES = ("alone", "below", "class", "frame", "given", "idle", "wipe")
 def spare_round(book, module, guards):
     """(module, guards) behind one round of sparing."""
     lot = need_spots(book, module, guards)
-    for step in (plainer, idle_gone, followed, struck):
-        module = with_rows(module, step(Seen(Facts(book, module, lot))))
+    module = with_rows(module, plainer(Seen(Facts(book, module, lot))))
+    module = with_rows(module, idle_gone(Seen(Facts(book, module, lot))))
+    module = with_rows(module, followed(module))
+    module = with_rows(module, struck(Facts(book, module, lot)))
     every = spots(book, module)
     lot = tuple([spot for spot in lot if spot in every])
     return (module, lot_left(Facts(book, module, lot)))

@@ -1,7 +1,6 @@
-"""The steps by which a guest is spared rows and guards; each is told of what is seen ahead of it."""
+"""The steps by which a guest is spared rows and guards, told by the facts, and by what is seen, ahead of each."""
 
 from nomoreseen.modules import Module
-from nomoreseen.spots import spots
 
 SET_BY = {"if": (-1, -3), "same": (-1, -2, -3)}
 
@@ -81,11 +80,9 @@ def _busy_row(seen, entry, row):
     return ("go", row + 1)
 
 
-def followed(seen):
+def followed(module):
     """The rows of each entry, jumps leading to where gos lead in the end."""
-    return [
-        [_followed_row(entry[5], row) for row in entry[5]] for entry in seen.facts.module.entries
-    ]
+    return [[_followed_row(entry[5], row) for row in entry[5]] for entry in module.entries]
 
 
 def _followed_row(rows, row):
@@ -101,13 +98,13 @@ def _followed_row(rows, row):
     return row[:-1] + (at,)
 
 
-def struck(seen):
+def struck(facts):
     """The rows of each entry without those that nobody comes to."""
-    module = seen.facts.module
+    module = facts.module
     numbers = {call: at for at, call in enumerate(module.calls())}
     rows = []
     for entry in range(len(module.entries)):
-        stays = [_row_that_stays(seen.facts, entry, row, numbers) for row in range(len(module.steps[entry]))]
+        stays = [_row_that_stays(facts, entry, row, numbers) for row in range(len(module.steps[entry]))]
         rows.append(_renumbered(stays))
     return rows
 

@@ -273,44 +273,72 @@ class Calls(unittest.TestCase):
             self.assertEqual(outcome(call, told_parts, named), first)
         return first, outcome(call, listed, False), outcome(call, listed, True), before == repr(listed)
 
-    def test_equal_calls(self):
-        rng = random.Random(2)
-        calls = [(name, getattr(module, name), names) for module, things in INTERFACE.items() for name, names in things.items()]
-        for _ in range(60):
-            book = random_book(rng)
-            doors = random_doors(rng, book)
-            guest = random_guest(rng, book, doors)
-            secrets = rng.choice(guest.all_secrets())
-            play, state = random_play(rng, book, guest, secrets, 4)
-            move = play[0] if play else ("call", "e", 0)
-            right = {
-                "book": book, "module": guest, "guest": guest, "secrets": secrets, "state": state, "moves": play, "move": move,
-                "play": play, "text": module_text(guest), "many": 4, "lots": ((0, 1), (1, 3)), "one": ((1,), (0, 3)), "most": 9,
-                "other": ((0, 1), (1, 3)), "web": (2, ((0, 1, 2, 1), (1, 2, 1, 0))), "bound": 5, "sizes": (1, 2), "pairs": ((0, 1),),
-                "guard": "wipe", "tricks": ("W", "R"), "name": "m", "modules": (guest, guest), "links": (), "main": ("m", "e"),
-                "value": spots.spots(book, guest), "around": guest, "word": 3, "narrow": True, "things": 1, "outs": True,
-                "inside": False, "known": [list(range(1, came + 1)) for came in state[3]],
-            }
-            for part, value in zip(INTERFACE[modules]["Module"], guest.told):
-                right.setdefault(part, value)
-            if play:
-                right["around"] = around.around(book, guest, play)
-            special = special_parts(rng, book, guest, secrets, play)
-            for name, call, names in calls:
-                if name in SLOW and rng.random() < 0.85:
+    def some_parts(self, rng):
+        """For each function arguments, mostly right ones."""
+        book = random_book(rng)
+        doors = random_doors(rng, book)
+        guest = random_guest(rng, book, doors)
+        secrets = rng.choice(guest.all_secrets())
+        play, state = random_play(rng, book, guest, secrets, 4)
+        move = play[0] if play else ("call", "e", 0)
+        right = {
+            "book": book, "module": guest, "guest": guest, "secrets": secrets, "state": state, "moves": play, "move": move,
+            "play": play, "text": module_text(guest), "many": 4, "lots": ((0, 1), (1, 3)), "one": ((1,), (0, 3)), "most": 9,
+            "other": ((0, 1), (1, 3)), "web": (2, ((0, 1, 2, 1), (1, 2, 1, 0))), "bound": 5, "sizes": (1, 2), "pairs": ((0, 1),),
+            "guard": "wipe", "tricks": ("W", "R"), "name": "m", "modules": (guest, guest), "links": (), "main": ("m", "e"),
+            "value": spots.spots(book, guest), "around": guest, "word": 3, "narrow": True, "things": 1, "outs": True,
+            "inside": False, "known": [list(range(1, came + 1)) for came in state[3]],
+        }
+        for part, value in zip(INTERFACE[modules]["Module"], guest.told):
+            right.setdefault(part, value)
+        if play:
+            right["around"] = around.around(book, guest, play)
+        special = special_parts(rng, book, guest, secrets, play)
+        for module, things in INTERFACE.items():
+            for name, names in things.items():
+                if name in SLOW and rng.random() < 0.85 or name in LEAKING and not rarely(guest):
                     continue
                 parts = {at: special.get(name, {}).get(at, right.get(at)) for at in names}
                 if name == "Module":
                     parts = dict(zip(names, guest.told))
-                if name in LEAKING and not rarely(guest):
-                    continue
-                if rng.random() < 0.3 and names and name not in ("Seen", "has_turn", "rest_moves", "rest_answered"):
-                    parts[rng.choice(names)] = rng.choice(values())
+                yield name, getattr(module, name), parts
+
+    def test_equal_calls(self):
+        rng = random.Random(2)
+        for _ in range(60):
+            for name, call, parts in self.some_parts(rng):
+                if rng.random() < 0.3 and parts and name not in ("Seen", "has_turn", "rest_moves", "rest_answered"):
+                    parts[rng.choice(list(parts))] = rng.choice(values())
                 first, listed, named, unchanged = self.check(call, parts)
                 self.assertTrue(unchanged)
                 self.assertEqual(listed, named)
                 if name not in PAPERS and isinstance(first, str):
                     self.assertEqual(listed, first, (name, parts))
+
+    def test_first_wrong_argument(self):
+        """What is wrong first is refused, whatever is wrong behind it."""
+        rng = random.Random(3)
+        met = {}
+        for _ in range(25):
+            for name, call, parts in self.some_parts(rng):
+                names = list(parts)
+                if name in ("Seen", "has_turn", "rest_moves", "rest_answered", "Module"):
+                    continue
+                for at, wrong in enumerate(names[:-1]):
+                    # Of spots left bare it is told that they are looked at behind both secrets.
+                    if wrong == "bare" and name in INTERFACE[calm]:
+                        continue
+                    for value in (None, -1, "?", (None,)):
+                        bent = {**parts, wrong: value}
+                        first = outcome(call, bent, False)
+                        if not isinstance(first, tuple):
+                            continue
+                        met[name] = True
+                        for junk in (None, -1, (None,)):
+                            # A book and a module are one question: the main entry is looked at ahead of links.
+                            later = {other: junk for other in names[at + 1:] if name != "Program" or (wrong, other) != ("links", "main")}
+                            self.assertEqual(outcome(call, {**bent, **later}, False), first, (name, wrong, value, junk))
+        self.assertGreater(len(met), 80)
 
     def test_bools_are_no_numbers(self):
         book = Book(3, True, 1, True, False)
