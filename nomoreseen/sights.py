@@ -72,7 +72,7 @@ class Search:
     def __init__(self, one, other):
         self.one = one
         self.other = other
-        self.words = range(one.book.word)
+        self.words = list(range(one.book.word))
         self.came_from = {}
 
     def shortest(self, first, most):

@@ -39,7 +39,7 @@ def careless(book, module, guards, kind):
     _need_kind(kind)
     more = [spot for spot in spots(book, module) if spot[0] == kind or spot in lot]
     behind, lot_behind = spared(book, module, more)
-    return (behind, tuple([spot for spot in lot_behind if spot[0] != kind or spot in lot]))
+    return (behind, tuple([spot for spot in lot_behind if spot in lot]))
 
 
 def edge_pair(book, kind):
@@ -53,5 +53,5 @@ def edge_pair(book, kind):
 
 
 def _need_kind(kind):
-    if not isinstance(kind, str) or kind not in EDGES:
+    if kind not in EDGES:
         raise NoName(kind)

@@ -32,4 +32,5 @@ def first_unlike(codes, pair, script):
 
 def parts_at_last(codes, pair, script):
     """Whether it is the last deed by which two codes, with a secret each, are seen unlike."""
-    return len(script) > 0 and first_unlike(codes, pair, script) == len(script) - 1
+    at = first_unlike(codes, pair, script)
+    return at is not None and at == len(script) - 1

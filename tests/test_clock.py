@@ -150,6 +150,16 @@ class Padding(unittest.TestCase):
         self.assertEqual(ticks_along(ALONE, SLOW, (0, 0), moves), ticks_along(ALONE, SLOW, (0, 0), moves[:1]))
         self.assertEqual(padding(ALONE, SLOW, (0, 0), ()), ())
 
+    def test_never_of_one_secret(self):
+        # f goes round for ever if r is 0; the others answer it.
+        module = module_of("room 0", "secret r num 2", "entry e x num 2 num 2", "if r 0 2", "set x 0", "back x", "entry f x num 2 num 2", "if r 1 2",
+                           "go 1", "back x")
+        moves = (("call", "e", 0), ("call", "f", 0))
+        self.assertEqual(padding(ALONE, module, (0,), moves, True), (2,))
+        self.assertEqual(padding(ALONE, module, (1,), moves, True), (0, 0))
+        self.assertEqual((padding(ALONE, module, (0,), moves), padding(ALONE, module, (1,), moves)), ((0,), (0, 0)))
+        self.assertEqual(most_padding(ALONE, module, True)[0], 2)
+
     def test_random_guests(self):
         rng = random.Random(42)
         added = {False: 0, True: 0}

@@ -18,7 +18,7 @@ from tests.anything import values
 from tests.scripts import random_deed, random_script
 from tests.test_calm import HAND, MODULE
 from tests.test_machine import module_of
-from tests.test_secrets import LEAKING, MANY, small_guest
+from tests.test_secrets import EIGHT, LEAKING, MANY, small_guest
 
 TEXT = module_text(MODULE)
 AROUND = "module around\nroom 0\nout e num 2 num 2\nentry main x num 3 num 3\nlocal t num 2\ncall t e t\nshow\nentry g x num 2 num 2\nback x"
@@ -124,6 +124,8 @@ class Answers(unittest.TestCase):
         self.assertIn("\nnumber", desk.say("spots m"))
         plain = desk_of("book 3 narrow things 0 alone", "module m\nroom 0\nentry e x num 3 num 3\nback x", "module n\nroom 0\nentry e x num 3 num 3\ngo 0")
         self.assertEqual((plain.say("leaks m"), plain.say("guards m"), plain.say("spots n")), ("", "none", ""))
+        eight = desk_of(book_text(HAND), module_text(EIGHT))
+        self.assertEqual((eight.say("leaks m"), eight.say("guards m")), ("", "none"))
         self.assertEqual(desk_of(book_text(HAND), module_text(MANY)).say("leaks m"), "too many spots")
         self.assertEqual(desk_of(book_text(HAND), module_text(MANY)).say("guards m"), "too many spots")
 

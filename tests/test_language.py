@@ -220,6 +220,7 @@ class Language(unittest.TestCase):
                     self.assertIs(outer.iter, node, (path, node.lineno))
                 elif isinstance(outer, ast.Assign):
                     self.assertEqual(name, "range", (path, node.lineno))
+                    self.assertIsInstance(outer.targets[0], ast.Name, (path, node.lineno))
                 else:
                     self.assertIsInstance(outer, ast.Call, (path, node.lineno))
                     self.assertIn(outer.func.id, takers + (("reversed",) if name == "range" else ()), (path, node.lineno))

@@ -25,6 +25,9 @@ FIRST = module_of("room 0", "secret s num 2", "entry e x num 2 num 2", "local t 
 MANY = module_of("room 0", "secret s num 2", "out g num 3 num 3", "out h num 2 num 2", "entry e x num 2 num 2", "local z num 3", "call z g z",
                  "call x h x", "back x")
 CLASS = [HAND, MODULE], [ALONE, FIRST]
+# Eight of them: that is not too many.
+EIGHT = module_of("room 0", "secret s num 2", "out g num 3 num 3", "out h num 2 num 2", "entry e x num 3 num 3", "local z num 2", "call x g x",
+                  "call z h z", "back x")
 LEAKING = Book(4, True, 2, False, False), module_of(
     "class box 2", "room 2", "secret s num 2", "cell b thing box", "entry make x num 2 num 2", "make b box s", "back x", "entry read c thing box num 2",
     "local t num 2", "read t c", "back t", "entry wide x num 2 num 2", "if x 0 3", "if x 1 3", "if s 0 3", "back x")
@@ -171,6 +174,18 @@ class ByHand(unittest.TestCase):
         # Each secret for itself: nothing is asked.
         told = module_of("room 0", "secret s num 3", "entry e x num 3 num 3", "back s")
         self.assertEqual((classes(ALONE, told), least_guards(ALONE, told)), ((((0,),), ((1,),), ((2,),)), (((), ()),)))
+
+    def test_eight_spots(self):
+        self.assertEqual(len(spots(HAND, EIGHT)), 8)
+        self.assertEqual((least_leaks(HAND, EIGHT), [lot for lot, _ in least_guards(HAND, EIGHT)]), ((), [()]))
+        self.assertTrue(both_hold(HAND, EIGHT, (), least_guards(HAND, EIGHT)))
+
+    def test_classes_of_what_is_seen_later(self):
+        # s is seen at once, r at the second call only, q never.
+        module = module_of("room 0", "secret s num 2", "secret r num 2", "secret q num 2", "cell n num 2", "entry e x num 2 num 2", "if n 1 3", "set n 1",
+                           "back s", "copy x r", "back r")
+        wanted = tuple(sorted(tuple((s, r, q) for q in range(2)) for s in range(2) for r in range(2)))
+        self.assertEqual((classes(ALONE, module), slow_classes(ALONE, module)), (wanted, wanted))
 
     def test_several_classes(self):
         # s is shown, r is not; two classes of two secrets.

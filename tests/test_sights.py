@@ -167,6 +167,7 @@ class Parting(unittest.TestCase):
         classes = [compiled(BOOK, module_of(f"class {name} 4", "room 0", "entry e x num 4 num 4", "back x"), ()) for name in ("box", "jar")]
         for value in values():
             self.assertEqual(caught(InvalidCode, parting_script, value, None, None, None, None), ("code",))
+            self.assertEqual(caught(InvalidCode, parting_script, value, CODE, (0,), (0,), 1), ("code",))
             self.assertEqual(caught(InvalidCode, parting_script, CODE, value, None, None, None), ("code",))
             if repr(value) not in ("(0,)", "[0]"):
                 self.assertEqual(caught(InvalidSecrets, parting_script, CODE, CODE, value, None, None), 0)

@@ -87,7 +87,8 @@ class Runs(unittest.TestCase):
             seen, script, _ = self.run_of(*rows, ("enter", "e", register), **more)
             return script[-1][2]
 
-        self.assertEqual(shown(), 0)
+        self.assertEqual([shown(register=at) for at in range(3)], [0, 0, 0])
+        self.assertEqual(shown(("const", 0, 3), ("peek", 0, 0, 0)), 0)
         self.assertEqual(shown(("const", 2, 3), register=2), 3)
         self.assertEqual(shown(("const", 0, 3), ("const", 1, 2), ("plus", 0, 1)), 1)
         self.assertEqual(shown(("const", 0, 3), ("plus", 0, 0)), 2)

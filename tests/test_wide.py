@@ -76,6 +76,16 @@ class Sights(unittest.TestCase):
         module = module_of("room 0", "entry e x num 2 num 2", "back x", "entry f x num 2 num 2", "add x 1", "back x")
         self.assertEqual([sight[0] for sight in wide_sights(BOOK, module, (), (), (("call", "e", 3, ()), ("call", "f", 3, ())))], [("back", 3), ("back", 0)])
 
+    def test_fields_that_are_written(self):
+        module = module_of("class box 4", "room 2", "cell b thing box", "entry e x num 4 num 4", "local k num 4", "make b box k", "write b x", "read k b",
+                           "back k", "entry f c thing box num 4", "local k num 4", "read k c", "back k")
+        script = (("call", "e", 3, ()), ("call", "e", 2, ()), ("call", "f", 1, ()), ("call", "f", 2, ()), ("call", "f", 3, ()))
+        self.assertEqual(wide_sights(BOOK, module, (), (), script), (
+            (("back", 3), 3, 1, 0, ()), (("back", 2), 2, 2, 0, ()), (("back", 3), 3, 1, 0, ()), (("back", 2), 2, 2, 0, ()), (("back", 0), 0, 3, 0, ())))
+        # A write to a number of no thing does nothing.
+        module = module_of("class box 4", "room 2", "entry e c thing box num 4", "local k num 4", "set k 2", "write c k", "read k c", "back k")
+        self.assertEqual(wide_sights(BOOK, module, (), (), (("call", "e", 3, ()),)), ((("back", 0), 0, 3, 0, ()),))
+
     def test_changed_frames(self):
         script = (("call", "e", 0, ()), ("back", 1, ((0, 0, 3), (0, 1, 3), (4, 0, 0), (0, 7, 0))))
         self.assertEqual(wide_sights(BOOK, GUEST, (), (0,), script)[1], NEVER)
@@ -194,6 +204,12 @@ class Honest(unittest.TestCase):
         self.assertEqual(honest_script(book, module, (), (), moves), (("call", "e", 2, ()), ("call", "f", 2, ()), ("call", "f", 0, ())))
         renamed = honest_script(book=book, module=module, guards=[["number", ""]], secrets=[], moves=list(map(list, moves)))
         self.assertEqual(renamed, (("call", "e", 2, ()), ("call", "f", 1, ()), ("call", "f", 0, ())))
+        # Behind two calls the list has the numbers 2 and 3.
+        several = module_of("class box 4", "room 3", "cell k thing box", "entry e x num 4 thing box", "if x 0 3", "make k box x", "back k", "make k box x",
+                            "make k box x", "back k", "entry f c thing box num 4", "local t num 4", "read t c", "back t")
+        moves = (("call", "e", 0), ("call", "e", 1), ("call", "f", 2), ("call", "f", 1))
+        self.assertEqual([deed[2] for deed in honest_script(book, several, (), (), moves)], [0, 1, 3, 2])
+        self.assertEqual([deed[2] for deed in honest_script(book, several, (("number", ""),), (), moves)], [0, 1, 2, 1])
         foreign = module_of("room 0", "foreign far", "cell k thing far", "entry e c thing far thing far", "copy k c", "back c")
         self.assertEqual(honest_script(book, foreign, (), (), (("call", "e", 1), ("call", "e", 2), ("call", "e", 1))),
                          (("call", "e", 1, ()), ("call", "e", 2, ()), ("call", "e", 1, ())))
