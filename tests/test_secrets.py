@@ -271,6 +271,10 @@ class Judges(unittest.TestCase):
             self.assertFalse(both_hold(HAND, MODULE, leaks, value))
             self.assertFalse(leaks_hold(HAND, MODULE, ((value, leaks[0][1]),)))
             self.assertFalse(leaks_hold(HAND, MODULE, ((leaks[0][0], value),)))
+            for at in range(3):
+                bent = leaks[0][1][:at] + (value,) + leaks[0][1][at + 1:]
+                if value not in ((0,), [0]):
+                    self.assertFalse(leaks_hold(HAND, MODULE, ((leaks[0][0], bent),)))
             self.assertFalse(guards_hold(HAND, MODULE, ((value, guards[0][1]),)) and value != (("wipe", "g"),))
             self.assertFalse(guards_hold(HAND, MODULE, ((guards[0][0], value),)))
         self.assertTrue(both_hold(book=HAND, module=MODULE, leaks=leaks, guards=guards))

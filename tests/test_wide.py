@@ -3,6 +3,7 @@
 import random
 import unittest
 
+from nomoreseen.calm import pile_steps
 from nomoreseen.compiler import compiled
 from nomoreseen.errors import InvalidBook, InvalidFrames, InvalidModule, InvalidPlay, InvalidScript, InvalidSecrets, InvalidSize, InvalidSpots, Refused
 from nomoreseen.frames import piled_sights
@@ -12,6 +13,7 @@ from nomoreseen.plays import answers
 from nomoreseen.seen import kept_names
 from nomoreseen.sights import sights
 from nomoreseen.spots import spots
+from nomoreseen.webs import is_parted
 from nomoreseen.wide import honest_script, wide_rows, wide_sights
 from tests import makers
 from tests.anything import caught, no_numbers, values
@@ -294,6 +296,27 @@ class Piled(unittest.TestCase):
             self.assertEqual(seen, mirror_piled(book, guest, guards, some, room, secrets, script[:len(seen)]))
             short += seen != sights(code, secrets, script)
         self.assertGreater(short, 50)
+
+    def test_deep_piles_part_as_their_web_tells(self):
+        # By the secret another call is done, which keeps less: nothing else shows it, but how many fit on the pile.
+        module = module_of("room 0", "secret s num 2", "cell z num 2", "out g num 2 num 2", "entry e x num 2 num 2", "local t num 2", "local k num 2",
+                           "copy k x", "if s 0 6", "call t g z", "if k 0 5", "go 5", "back z", "call t g z", "if x 0 8", "if k 0 9", "back z")
+        book = Book(3, True, 0, True, True)
+        every = spots(book, module)
+        kept = kept_names(book, module, every)
+        self.assertEqual(kept, ((4,), (2, 4)))
+        steps = pile_steps(book, module, (), (0,), (1,))
+        sizes = [1 + len(told) for told in kept]
+        web = (2, tuple((level, sizes[one], sizes[other], above) for level, one, other, above in steps))
+        self.assertEqual(web, (2, ((0, 3, 2, 1), (1, 3, 2, 1))))
+        for room in range(16):
+            ends = []
+            for secrets in ((0,), (1,)):
+                many = 1
+                while piled_sights(book, module, every, kept, room, secrets, (("call", "e", 1, ()),) * many)[-1] != NEVER:
+                    many += 1
+                ends.append(many)
+            self.assertEqual(ends[0] != ends[1], is_parted(web, room))
 
     def test_errors_in_their_order(self):
         check_first_errors(self, piled_sights, (None, None, None))
