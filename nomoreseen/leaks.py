@@ -55,7 +55,7 @@ class Lots:
     """What is known of the lots of a guest's spots.
 
     leaks has, for each bare lot that is known to be a least one that leaks, a leak; papers, for each lot of
-    guarded spots that is known to be enough, its papers; calm has bare lots that are known not to leak.
+    guarded spots that is known to be enough, its papers; looked has what was found of bare lots.
     """
 
     def __init__(self, book, module):
@@ -65,7 +65,7 @@ class Lots:
         self.side_by_side = side_by_side(alike_classes(book, module))
         self.leaks = {}
         self.papers = {}
-        self.calm = []
+        self.looked = {}
 
     def look_at_all(self):
         """Finds all least lots that leak, and all least ones that are enough.
@@ -93,18 +93,23 @@ class Lots:
         bare, leak = told
         for at in told[0]:
             less = tuple([number for number in bare if number != at])
-            # More guards never harm: what lies within a lot that does not leak does not either.
-            if any([is_within(less, calm) for calm in self.calm]):
-                continue
-            found, _ = self.looked_at(less)
+            found = None if self._is_calm(less) else self.looked_at(less)[0]
             if found is not None:
                 bare, leak = less, found
-            else:
-                self.calm.append(less)
         self.leaks[bare] = leak
+
+    def _is_calm(self, bare):
+        """Whether it is known that a bare lot does not leak: it lies within one that does not."""
+        calm = [other for other in self.looked if self.looked[other][0] is None]
+        return any([is_within(bare, other) for other in calm])
 
     def looked_at(self, bare):
         """(some leak of a bare lot, None), or (None, its papers)."""
+        if bare not in self.looked:
+            self.looked[bare] = self._found_at(bare)
+        return self.looked[bare]
+
+    def _found_at(self, bare):
         left_out = [self.spots[at] for at in bare]
         code = Code(self.book, self.module, [spot for spot in self.spots if spot not in left_out])
         papers = []

@@ -14,7 +14,7 @@ from nomoreseen.errors import InvalidSize
 
 MOST_OPENS = 4000
 # What came of moves is kept for the next time, but no more than so much.
-MOST_KNOWN = 300000
+MOST_KNOWN = 100000
 
 
 class Outcomes:

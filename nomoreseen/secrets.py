@@ -24,7 +24,7 @@ def is_enough(book, module, guarded):
     """Whether guards at these spots alone let no stranger part two secrets of a class."""
     lot = need_spots(book, module, guarded)
     lots = Lots(book, module)
-    leak, _ = lots.looked_at([at for at, spot in enumerate(lots.spots) if spot not in lot])
+    leak, _ = lots.looked_at(tuple([at for at, spot in enumerate(lots.spots) if spot not in lot]))
     return leak is None
 
 

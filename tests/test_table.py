@@ -151,6 +151,20 @@ class Needs(unittest.TestCase):
                     right = False
                 self.assertEqual(need_holds(EVERY, lot, (trick, one, other, bent)), right, bent)
 
+    def test_example_of_34(self):
+        book = Book(4, True, 0, False, False)
+        head = ("room 0", "entry e x num 2 num 3", "local y num 3")
+        one, other = module_of(*head, "if x 0 3", "if x 1 3", "set y 1", "back y"), module_of(*head, "back y")
+        need = ("K", one, other, (("call", "e", 2, ()),))
+        self.assertTrue(need_holds(book, ("W",), need))
+        self.assertFalse(need_holds(book, ("W", "K"), need))
+        self.assertFalse(need_holds(book, ("W",), need[:3] + ((("call", "e", 1, ()),),)))
+        codes = [compiled(book, guest, spots_of(book, guest, ("W",))) for guest in (one, other)]
+        self.assertEqual([sights(code, (), need[3])[0] for code in codes], [(("back", 1), 0, 0, 0, ()), (("back", 0), 0, 0, 0, ())])
+        codes = [compiled(book, guest, spots_of(book, guest, ("W", "K"))) for guest in (one, other)]
+        self.assertEqual([sights(code, (), need[3])[0] for code in codes], [(("never",),)] * 2)
+        self.assertIsNone(parting_script(*codes, (), (), 6))
+
     def test_guests_that_are_too_much(self):
         book = Book(4, True, 0, True, False)
         head = ("room 0", "entry e x num 4 num 4", "local t num 4", "set t 1")
